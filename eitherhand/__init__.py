@@ -1,0 +1,1 @@
+"""Eitherhand: promises of which one hand chooses, or the other."""

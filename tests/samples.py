@@ -1,0 +1,87 @@
+"""Values of all the sorts of which the document says that they can be passed, and promises."""
+
+from eitherhand.base.promises import KINDS, Promise
+from eitherhand.errors import InvalidWord, UnknownFact
+
+A = Promise.fact("a")
+COPY = Promise.read("([a + b] | [!a * !b])")
+TEXTS = (
+    "a", "!a", "yes", "no", "rain", "!abcdefgh", "(a & b)", "(a | !b | yes)", "[a + b + c + d]",
+    "[yes * no]", "([a + b] | [!a * !b])", "([!b + !c] | ([b * c] & [b * c]))",
+    "(((a & b) | [c + !d]) & [no * (yes | e)] & f)", "[[a + !a] * [b + !b]]", "((a | a) & yes)",
+)
+
+
+def nested(depth, make, inner):
+    """A value within so many lists, tuples or dicts."""
+    for _ in range(depth):
+        inner = make(inner)
+    return inner
+
+
+def all_sorts():
+    """Fresh values of every sort."""
+    printable = "".join([chr(code) for code in range(32, 127)])
+    numbers = [0, 1, -1, 2, 3, 4, 5, 7, 40, 10 ** 59, 10 ** 60 - 1, 10 ** 60, -10 ** 60, 10 ** 100 - 1]
+    strings = [
+        "", "a", "rain", "yes", "no", "all", "some", "mine", "yours", "fact", "not", "keeper",
+        "caller", "(a & b)", "a\n", " ", printable, "a" * 9000, "(" * 9000, "\n" * 9000,
+    ]
+    return [
+        None, True, False, *numbers, *strings, (), [], {}, ("a",), ["a"], {"a": "b"},
+        ("fact", "a"), (("fact", "a"),), [("fact", "a")], {"a": ["b", {"c": (1, [2])}]},
+        nested(12, lambda inner: (inner,), 0), nested(12, lambda inner: [inner], 0),
+        nested(12, lambda inner: {"a": inner}, 0), nested(12, lambda inner: {(1, True): inner}, "x"),
+        Promise.fact("a"), (Promise.fact("a"), Promise.sure()), Promise.read("[a + !a]"),
+        InvalidWord("a"), UnknownFact("a"), (InvalidWord("a"),),
+    ]
+
+
+def sorts_but(*kept):
+    """Values of every sort, without those that are equal to some and of their class."""
+    return [
+        value for value in all_sorts()
+        if not any(type(value) is type(one) and value == one for one in kept)
+    ]
+
+
+def no_promises():
+    """Values of every sort that are no promises."""
+    return [value for value in all_sorts() if not isinstance(value, Promise)]
+
+
+def chain(depth):
+    """A promise of one fact that is so deep, without choices."""
+    promise = A
+    for _ in range(depth - 1):
+        promise = promise & A
+    return promise
+
+
+def of_all(*parts):
+    """All of some promises."""
+    return Promise.of("all", parts)
+
+
+def small_nodes(most):
+    """The nodes of all promises of at most so many nodes, of a and b."""
+    plain = [(("fact", "a"),), (("not", "b"),), (("yes", 0),), (("no", 0),)]
+    by_size = {1: plain}
+    for size in range(2, most + 1):
+        by_size[size] = []
+        for many in range(2, 5):
+            for parts in part_lists(by_size, many, size - 1):
+                by_size[size] += [((kind, many), *parts) for kind in KINDS]
+    return [nodes for size in by_size for nodes in by_size[size]]
+
+
+def part_lists(by_size, many, size):
+    """The nodes, one behind the other, of so many parts of so many nodes in all."""
+    if many == 0:
+        return [()] if size == 0 else []
+    return [
+        first + rest
+        for own in range(1, size + 1) if own in by_size
+        for rest in part_lists(by_size, many - 1, size - own)
+        for first in by_size[own]
+    ]
