@@ -1,10 +1,25 @@
 """Values of all the sorts of which the document says that they can be passed, and promises."""
 
+import random
+
+from eitherhand.base.places import Surface
 from eitherhand.base.promises import KINDS, Promise
-from eitherhand.errors import InvalidWord, UnknownFact
+from eitherhand.errors import InvalidPromise, InvalidWord, UnknownFact
+from eitherhand.keep.counters import Counter
+from eitherhand.keep.kept import Keeper
+from eitherhand.keep.plans import Plan
+from eitherhand.plain.worlds import Plain
+from eitherhand.play.runs import Play
 
 A = Promise.fact("a")
+PICK = Promise.read("[a + !a]")
 COPY = Promise.read("([a + b] | [!a * !b])")
+TWICE = Promise.read("([!b + !c] | ([b * c] & [b * c]))")
+HALF = Promise.read("([a + b] | !a)")
+COPY_PLAN = {
+    COPY.text: None, "([a + b] | !a)": ((0,), 0), "([a + b] | !b)": ((0,), 1), "(a | !a)": None, "(b | !b)": None,
+}
+PICK_COUNTER = {PICK.text: ("rest", ()), "a": ("rest", ()), "!a": ("rest", ("a",))}
 TEXTS = (
     "a", "!a", "yes", "no", "rain", "!abcdefgh", "(a & b)", "(a | !b | yes)", "[a + b + c + d]",
     "[yes * no]", "([a + b] | [!a * !b])", "([!b + !c] | ([b * c] & [b * c]))",
@@ -33,8 +48,17 @@ def all_sorts():
         nested(12, lambda inner: (inner,), 0), nested(12, lambda inner: [inner], 0),
         nested(12, lambda inner: {"a": inner}, 0), nested(12, lambda inner: {(1, True): inner}, "x"),
         Promise.fact("a"), (Promise.fact("a"), Promise.sure()), Promise.read("[a + !a]"),
-        InvalidWord("a"), UnknownFact("a"), (InvalidWord("a"),),
+        InvalidWord("a"), UnknownFact("a"), (InvalidWord("a"),), *made(), tuple(made()), {"a": made()},
     ]
+
+
+def made():
+    """An object of each class of the package that has a state, or a table."""
+    play = Play(COPY)
+    play.call("caller", (1,), 0)
+    keeper = Keeper(COPY)
+    keeper.hear((1,), 0)
+    return [Surface(COPY), Plain(COPY), play, Plan(COPY, COPY_PLAN), keeper, Counter(PICK, PICK_COUNTER)]
 
 
 def sorts_but(*kept):
@@ -85,3 +109,30 @@ def part_lists(by_size, many, size):
         for rest in part_lists(by_size, many - 1, size - own)
         for first in by_size[own]
     ]
+
+
+def grown(rng, depth, facts):
+    """A promise that is made at random."""
+    if depth == 0 or rng.random() < 0.2:
+        words = [*facts, *["!" + fact for fact in facts], *facts, "yes", "no"]
+        return Promise.read(rng.choice(words))
+    many = rng.choice((2, 2, 2, 3))
+    return Promise.of(rng.choice(KINDS), tuple(grown(rng, depth - 1, facts) for _ in range(many)))
+
+
+def varied(seed, many, most=5, facts="ab"):
+    """Promises made at random, with at most so many choices; every other one leads on to another."""
+    rng = random.Random(seed)
+    found = []
+    while len(found) < many:
+        one = grown(rng, rng.choice((1, 2, 2, 3)), facts)
+        try:
+            if len(found) % 2 == 0:
+                one = -one | rng.choice((one, one + grown(rng, 1, facts), grown(rng, 2, facts) | one))
+            elif len(found) % 3 == 0:
+                one = one | Promise.read(rng.choice(("[a + !a]", "([a + !a] | [a + !a])", "(a | !a)")))
+        except InvalidPromise:
+            continue
+        if 1 <= one.choices <= most and len(one) <= 24:
+            found.append(one)
+    return found

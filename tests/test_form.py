@@ -114,6 +114,83 @@ class FormTest(unittest.TestCase):
                     told = {item.id if isinstance(item, ast.Name) else item.attr for item in node.decorator_list}
                     self.assertLessEqual(told, {"property", "classmethod", "staticmethod", "setter"}, path)
 
+    def test_what_is_given_to_builtins(self):
+        known = {"list", "tuple", "sorted", "range"}
+        for path, tree in trees():
+            calls = [node for node in ast.walk(tree) if isinstance(node, ast.Call) and isinstance(node.func, ast.Name)]
+            for node in calls:
+                first = node.args[0] if node.args else None
+                if node.func.id in ("any", "all", "min", "max", "sum", "sorted"):
+                    self.assertNotIsInstance(first, ast.GeneratorExp, (path, node.lineno))
+                if node.func.id == "reversed":
+                    self.assertTrue(isinstance(first, ast.Call) and first.func.id in known, (path, node.lineno))
+                if node.func.id == "isinstance":
+                    self.assertIsInstance(node.args[1], (ast.Name, ast.Tuple), (path, node.lineno))
+
+    def test_methods_of_builtin_values(self):
+        let = set("append extend get index items join pop replace setdefault split startswith values".split())
+        own = {node.name for _, tree in trees() for node in ast.walk(tree) if isinstance(node, ast.FunctionDef)}
+        for path, tree in trees():
+            for node in ast.walk(tree):
+                if isinstance(node, ast.Call) and isinstance(node.func, ast.Attribute):
+                    self.assertIn(node.func.attr, let | own, (path, node.lineno))
+
+    def test_generators_have_names_of_their_own(self):
+        names = [node.name for _, tree in trees() for node in ast.walk(tree) if isinstance(node, ast.FunctionDef)]
+        found = set()
+        for path, tree in trees():
+            for node in ast.walk(tree):
+                if isinstance(node, ast.FunctionDef):
+                    if any(isinstance(inner, (ast.Yield, ast.YieldFrom)) for inner in ast.walk(node)):
+                        self.assertEqual(names.count(node.name), 1, (path, node.name))
+                        found.add(node.name)
+        self.assertEqual(found, {"worlds", "delays", "sound_runs", "runs"})
+        used = [node.id for _, tree in trees() for node in ast.walk(tree) if isinstance(node, ast.Name)]
+        self.assertFalse(found & {"delays", "sound_runs"} & set(used))
+
+    def test_properties_share_no_name_with_methods_or_stored_attributes(self):
+        properties, methods, stored = set(), set(), set()
+        for _, tree in trees():
+            for node in ast.walk(tree):
+                if isinstance(node, ast.ClassDef):
+                    for made in node.body:
+                        if isinstance(made, ast.FunctionDef):
+                            (properties if self.is_property(made) else methods).add(made.name)
+                if isinstance(node, ast.Attribute) and isinstance(node.ctx, ast.Store):
+                    stored.add(node.attr)
+        self.assertFalse(properties & methods)
+        self.assertFalse(properties & stored)
+        self.assertFalse(methods & stored)
+
+    def is_property(self, made):
+        return any(isinstance(one, ast.Name) and one.id == "property" for one in made.decorator_list)
+
+    def test_no_local_name_is_that_of_a_class_or_an_import(self):
+        for path, tree in trees():
+            fixed = {node.name for node in ast.walk(tree) if isinstance(node, (ast.ClassDef, ast.alias))}
+            for node in ast.walk(tree):
+                if isinstance(node, ast.arg):
+                    self.assertNotIn(node.arg, fixed, (path, node.lineno))
+                if isinstance(node, ast.Name) and isinstance(node.ctx, ast.Store):
+                    self.assertNotIn(node.id, fixed, (path, node.lineno))
+
+    def test_no_two_files_import_from_each_other(self):
+        needs = {}
+        for path, tree in trees():
+            name = ".".join(path.relative_to(PACKAGE.parent).with_suffix("").parts)
+            needs[name] = {node.module for node in tree.body if isinstance(node, ast.ImportFrom)}
+        left = set(needs)
+        while left:
+            free = {name for name in left if not needs[name] & left}
+            self.assertTrue(free, left)
+            left -= free
+
+    def test_nothing_is_imported_without_use(self):
+        for path, tree in trees():
+            told = {alias.name for node in tree.body if isinstance(node, ast.ImportFrom) for alias in node.names}
+            used = {node.id for node in ast.walk(tree) if isinstance(node, ast.Name)}
+            self.assertLessEqual(told, used, path)
+
     def test_python_itself_gives_no_warning(self):
         with warnings.catch_warnings():
             warnings.simplefilter("error")

@@ -8,54 +8,144 @@ FUNCTIONS = {
     "eitherhand.base.words": {
         "is_integer": ["value"], "is_fact": ["value"], "is_hand": ["value"], "other_hand": ["hand"],
     },
+    "eitherhand.base.places": {
+        "surface": ["promise"], "part_at": ["promise", "place"], "calls": ["promise", "hand"],
+        "is_call": ["promise", "value"], "hand_of": ["promise", "call"], "called": ["promise", "call"],
+        "replaced": ["promise", "place", "other"], "positions": ["promise"], "is_position": ["promise", "value"],
+        "calls_to": ["promise", "text"],
+    },
+    "eitherhand.plain.worlds": {
+        "is_world": ["promise", "value"], "worlds": ["promise"], "plain_form": ["promise"],
+        "does_hold": ["promise", "world"], "is_stable": ["promise"], "false_worlds": ["promise"],
+        "with_truth": ["promise", "fact", "truth"], "does_depend": ["promise", "fact"],
+        "are_equal_plain": ["promise", "other"],
+    },
+    "eitherhand.play.runs": {
+        "is_move": ["value"], "is_run": ["value"], "moves_at": ["promise", "hand"], "first_wrong": ["promise", "run"],
+        "played": ["promise", "run"], "winner": ["promise", "run", "world"], "is_delay": ["hand", "run", "other"],
+        "delays": ["hand", "run"], "sound_runs": ["promise", "most"], "count_runs": ["promise"],
+    },
+    "eitherhand.keep.plans": {
+        "is_plan": ["promise", "value"], "does_go_by": ["promise", "plan", "run"], "due_call": ["promise", "plan", "run"],
+        "taken_up": ["promise", "plan", "run"], "answered": ["promise", "plan", "calls"],
+    },
+    "eitherhand.keep.kept": {
+        "is_kept": ["promise"], "plan_for": ["promise"], "kept_paper": ["promise"], "is_kept_paper": ["promise", "value"],
+        "good_calls": ["promise"], "hurting_calls": ["promise"], "may_wait": ["promise"], "kept_positions": ["promise"],
+    },
+    "eitherhand.keep.counters": {
+        "is_counter": ["promise", "value"], "is_habit": ["promise", "value"], "counter_for": ["promise"],
+        "does_counter": ["promise", "counter", "run"], "due_counter": ["promise", "counter", "run"],
+        "last_world": ["promise", "counter", "run"], "meeting": ["promise", "habit", "counter"],
+        "caller_wins": ["promise", "counter", "calls"],
+    },
+    "eitherhand.keep.fewest": {
+        "need": ["promise"], "needs": ["promise"], "most_table": ["promise", "many"],
+        "is_most_table": ["promise", "many", "value"], "least_table": ["promise", "many"],
+        "is_least_table": ["promise", "many", "value"], "cost": ["promise", "plan"], "sparing_plan": ["promise"],
+        "is_sparing": ["promise", "value"], "sparing_calls": ["promise"],
+    },
+}
+CONSTANTS = {
+    "eitherhand.base.words": {"MAX_LETTERS": 8, "HANDS": ("caller", "keeper")},
+    "eitherhand.base.promises": {
+        "MAX_NODES": 40, "MAX_CHOICES": 10, "MAX_FACTS": 6, "MAX_DEPTH": 8, "KINDS": ("all", "mine", "some", "yours"),
+    },
+    "eitherhand.base.places": {"MAX_POSITIONS": 20000},
+    "eitherhand.play.runs": {"MAX_MOVES": 12, "HANDS": ("caller", "keeper")},
+    "eitherhand.keep.kept": {"MAX_POSITIONS": 20000},
+    "eitherhand.keep.fewest": {"MAX_CALLS": 10},
 }
 ERRORS = (
     "PromiseError", "InvalidWord", "InvalidPromise", "InvalidPlace", "InvalidCall", "InvalidRun", "InvalidWorld",
     "InvalidPlan", "InvalidBook", "InvalidOperation", "ParseError", "UnknownFact", "NotKept", "NothingToUndo",
     "TooMany", "Refused", "InvalidNumber",
 )
-CLASSES = {"eitherhand.errors": ERRORS, "eitherhand.base.promises": ("Promise",)}
-PROMISE = {
-    "class methods": {"read": ["text"], "of": ["kind", "parts"], "fact": ["word"], "sure": [], "never": []},
-    "properties": ["nodes", "text", "kind", "parts", "facts", "choices", "depth"],
-    "methods": {
-        "renamed": ["names"], "put": ["word", "other"], "with_part": ["index", "other"], "many": ["kind"],
-        "__init__": ["nodes"],
-    },
-    "operators": [
-        "__and__", "__or__", "__add__", "__mul__", "__neg__", "__len__", "__iter__", "__getitem__", "__contains__",
-        "__eq__", "__str__",
-    ],
+GENERATORS = ("worlds", "delays", "sound_runs", "runs")
+OPERATORS = {
+    "__len__": [], "__iter__": [], "__contains__": ["value"], "__eq__": ["value"], "__str__": [],
 }
+ARITHMETIC = {"__and__": ["other"], "__or__": ["other"], "__add__": ["other"], "__mul__": ["other"], "__neg__": []}
+# Of each class its module, its parameters, its properties, its methods and its class methods.
+CLASSES = {
+    "Promise": (
+        "eitherhand.base.promises", ["nodes"], ["nodes", "text", "kind", "parts", "facts", "choices", "depth"],
+        {"renamed": ["names"], "put": ["word", "other"], "with_part": ["index", "other"], "many": ["kind"],
+         "__getitem__": ["index"], **ARITHMETIC},
+        {"read": ["text"], "of": ["kind", "parts"], "fact": ["word"], "sure": [], "never": []},
+    ),
+    "Surface": (
+        "eitherhand.base.places", ["promise"], ["promise", "places", "mine", "yours", "plain"],
+        {"behind": ["call"], "moves": ["hand"], "is_over": [], "__getitem__": ["place"]}, {},
+    ),
+    "Plain": (
+        "eitherhand.plain.worlds", ["promise"], ["promise", "form", "facts", "table", "true", "false"],
+        {"at": ["world"], "needed": [], "with_fact": ["fact", "truth"]}, {},
+    ),
+    "Play": (
+        "eitherhand.play.runs", ["promise"], ["promise", "position", "so_far"],
+        {"call": ["hand", "place", "index"], "back": ["many"], "moves": ["hand"], "is_over": [], "leader": ["world"]}, {},
+    ),
+    "Plan": (
+        "eitherhand.keep.plans", ["promise", "table"], ["promise", "table", "start"],
+        {"at": ["text"], "lean": [], "most_calls": [], "runs": []}, {},
+    ),
+    "Keeper": (
+        "eitherhand.keep.kept", ["promise"], ["promise", "position", "so_far"],
+        {"hear": ["place", "index"], "answer": [], "settle": [], "back": ["many"]}, {},
+    ),
+    "Counter": (
+        "eitherhand.keep.counters", ["promise", "table"], ["promise", "table", "rests"], {"at": ["text"], "lean": []}, {},
+    ),
+}
+
+
+def parameters(function):
+    """The names of the parameters."""
+    return list(inspect.signature(function).parameters)
 
 
 class InterfaceTest(unittest.TestCase):
     def test_functions_stand_in_their_files(self):
         for name, functions in FUNCTIONS.items():
             module = importlib.import_module(name)
-            for word, parameters in functions.items():
+            for word, names in functions.items():
                 function = getattr(module, word)
                 self.assertEqual(function.__module__, name)
-                self.assertEqual(list(inspect.signature(function).parameters), parameters)
+                self.assertEqual(parameters(function), names)
+                self.assertIs(inspect.isgeneratorfunction(function), word in GENERATORS, word)
 
-    def test_classes_stand_in_their_files(self):
-        for name, words in CLASSES.items():
+    def test_constants(self):
+        for name, constants in CONSTANTS.items():
             module = importlib.import_module(name)
-            for word in words:
-                self.assertTrue(inspect.isclass(getattr(module, word)), word)
-                self.assertEqual(getattr(module, word).__module__, name)
+            for word, value in constants.items():
+                self.assertEqual(getattr(module, word), value)
+
+    def test_errors_stand_in_their_file(self):
+        module = importlib.import_module("eitherhand.errors")
+        for word in ERRORS:
+            self.assertTrue(inspect.isclass(getattr(module, word)), word)
+            self.assertEqual(getattr(module, word).__module__, "eitherhand.errors")
 
     def test_the_class_itself_has_all_that_is_listed(self):
-        own = vars(importlib.import_module("eitherhand.base.promises").Promise)
-        for word, parameters in PROMISE["class methods"].items():
-            self.assertIsInstance(own[word], classmethod)
-            self.assertEqual(list(inspect.signature(own[word].__func__).parameters)[1:], parameters)
-        for word in PROMISE["properties"]:
-            self.assertIsInstance(own[word], property)
-        for word, parameters in PROMISE["methods"].items():
-            self.assertEqual(list(inspect.signature(own[word]).parameters)[1:], parameters)
-        for word in PROMISE["operators"]:
-            self.assertTrue(inspect.isfunction(own[word]), word)
+        for word, (name, own, properties, methods, class_methods) in CLASSES.items():
+            made = getattr(importlib.import_module(name), word)
+            self.assertEqual(made.__module__, name)
+            self.assertEqual(parameters(made), own)
+            for listed in properties:
+                self.assertIsInstance(vars(made)[listed], property, (word, listed))
+            for listed, names in {**methods, **OPERATORS}.items():
+                self.assertTrue(inspect.isfunction(vars(made)[listed]), (word, listed))
+                self.assertEqual(parameters(vars(made)[listed])[1:], names, (word, listed))
+                self.assertIs(inspect.isgeneratorfunction(vars(made)[listed]), listed in GENERATORS, (word, listed))
+            for listed, names in class_methods.items():
+                self.assertIsInstance(vars(made)[listed], classmethod, (word, listed))
+                self.assertEqual(parameters(vars(made)[listed].__func__)[1:], names, (word, listed))
+
+    def test_default_values(self):
+        for word in ("Play", "Keeper"):
+            back = vars(getattr(importlib.import_module(CLASSES[word][0]), word))["back"]
+            self.assertEqual(inspect.signature(back).parameters["many"].default, 1)
 
 
 if __name__ == "__main__":

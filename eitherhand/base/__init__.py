@@ -1,1 +1,1 @@
-"""What everything else stands on: words and promises."""
+"""What everything else stands on: words, promises, places and calls."""

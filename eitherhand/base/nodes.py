@@ -65,19 +65,19 @@ def text_of(nodes):
             parts = []
             for _ in range(told):
                 parts.append(texts.pop())
-            texts.append(_bracketed(kind, parts))
+            texts.append(bracketed(kind, parts))
         else:
-            texts.append(_plain_text(kind, told))
+            texts.append(plain_text(kind, told))
     return texts[0]
 
 
-def _bracketed(kind, parts):
+def bracketed(kind, parts):
     """The text of a node over the texts of its parts."""
     inner = SIGNS[kind].join(parts)
     return "[" + inner + "]" if kind in ("mine", "yours") else "(" + inner + ")"
 
 
-def _plain_text(kind, told):
+def plain_text(kind, told):
     """The text of a plain node."""
     if kind == "fact":
         return told
@@ -142,13 +142,13 @@ def parts_of(nodes):
     found = []
     start = 1
     while start < len(nodes):
-        end = _end_of(nodes, start)
+        end = end_of(nodes, start)
         found.append(nodes[start:end])
         start = end
     return found
 
 
-def _end_of(nodes, start):
+def end_of(nodes, start):
     """The index behind the part that starts at an index."""
     missing = 1
     end = start

@@ -1,0 +1,1 @@
+"""Plans and counters: which promises can be kept, and with how few calls."""

@@ -1,0 +1,1 @@
+"""Worlds, and what holds in them without any calls."""

@@ -1,0 +1,1 @@
+"""Runs: the calls of both hands, one behind the other."""
