@@ -5,6 +5,7 @@ import time
 import unittest
 
 from eitherhand.base import places
+from eitherhand.base.boards import Board
 from eitherhand.base.promises import Promise
 from eitherhand.errors import InvalidOperation, TooMany
 from eitherhand.keep import counters, fewest, kept, plans
@@ -56,6 +57,16 @@ class LimitsTest(unittest.TestCase):
         way = places.calls_to(FULL, text)
         self.assertEqual(len(way), 7)
         self.assertEqual(runs.played(FULL, way).text, text)
+
+    def test_a_lesser_limit_is_met_exactly(self):
+        for promise in (Promise.read(text) for text in (
+                "[a + b]", "[a + a]", "(a & b)", "([a + b] & [c * c])", "[([a + b] | [a + b]) * a * [a + c + [a * d]]]",
+                "[[a + b] + [a + b] + b]", "(([a + b] & [c + d]) | [[a * b] + c])", INNER)):
+            many = len(places.positions(promise))
+            self.assertEqual(len(Board(promise.nodes, many).texts), many)
+            with self.assertRaises(TooMany) as caught:
+                Board(promise.nodes, many - 1)
+            self.assertEqual(caught.exception.limit, many - 1)
 
     def test_few_positions_of_many_choices(self):
         self.assertEqual(len(places.positions(NESTED)), 7)

@@ -116,9 +116,8 @@ class Surface:
     """What can be seen of a promise at once. It never changes."""
 
     def __init__(self, promise):
-        check_promise(promise)
-        self._promise = promise
         self._places = surface(promise)
+        self._promise = promise
 
     @property
     def promise(self):

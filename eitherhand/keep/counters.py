@@ -5,7 +5,7 @@ from eitherhand.errors import InvalidCall, InvalidOperation, InvalidPlan
 from eitherhand.keep.going import Goer, counter_dues, plan_dues, run_against, run_of_both
 from eitherhand.keep.judging import is_counter_on, is_habit_on
 from eitherhand.keep.solving import counter_table, dues_of_counter, in_order, kept_on, reached
-from eitherhand.play.runs import check_run, first_wrong
+from eitherhand.play.runs import first_wrong
 
 
 def _goer(board, counter):
@@ -18,7 +18,6 @@ def _goer(board, counter):
 def _goer_for(promise, counter, run):
     """The caller at the promise, going by a counter through what should be a sound run."""
     goer = _goer(board_of(promise), counter)
-    check_run(run)
     if first_wrong(promise, run) is not None:
         raise InvalidOperation("a hand makes a call that is not there")
     return goer

@@ -5,7 +5,7 @@ from eitherhand.errors import InvalidCall, InvalidOperation, InvalidPlan
 from eitherhand.keep.going import Goer, plan_dues, run_against
 from eitherhand.keep.judging import is_plan_on
 from eitherhand.keep.solving import in_order, most_due, plan_table
-from eitherhand.play.runs import check_run, first_wrong
+from eitherhand.play.runs import first_wrong
 
 
 def _goer(board, plan):
@@ -18,7 +18,6 @@ def _goer(board, plan):
 def _goer_for(promise, plan, run):
     """The keeper at the promise, going by a plan through what should be a sound run."""
     goer = _goer(board_of(promise), plan)
-    check_run(run)
     if first_wrong(promise, run) is not None:
         raise InvalidOperation("a hand makes a call that is not there")
     return goer
