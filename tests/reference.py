@@ -234,3 +234,174 @@ def with_calls(text, hand, table, wanted):
             return None if wanted else tuple(run)
         if not going.takes(run[-1]):
             raise AssertionError(run)
+
+
+def bridge(one, other):
+    """The text of the bridge between two texts."""
+    return f"({-Promise.read(one)} | {other})"
+
+
+def leads(one, other):
+    """Whether the bridge of two texts is kept."""
+    return bridge(one, other) in kept(bridge(one, other))
+
+
+def kept_where(text, can_wait):
+    """The positions that are kept if a keeper can wait where a function tells, by recursion."""
+    @functools.lru_cache(maxsize=None)
+    def is_kept(one):
+        if can_wait(one) and all(is_kept(behind) for _, behind in ways(text, one, "caller")):
+            return True
+        return any(is_kept(behind) for _, behind in ways(text, one, "keeper"))
+    return frozenset(one for one in game(text) if is_kept(one))
+
+
+def holds_in(text, chosen):
+    """Whether a position holds in each world of a set, a world counting by the facts that are left."""
+    promise = Promise.read(text)
+    return all(holds(promise, tuple(fact for fact in world if fact in promise.facts)) for world in chosen)
+
+
+def kept_in(text, chosen):
+    """The positions that are kept in a set of worlds."""
+    return kept_where(text, lambda one: holds_in(one, chosen))
+
+
+def sets_of(values):
+    """All ascending tuples of some values."""
+    values = sorted(values)
+    return sorted(one for many in range(len(values) + 1) for one in itertools.combinations(values, many))
+
+
+def greatest_sets(text):
+    """The greatest sets, found by asking for each set."""
+    good = [set(one) for one in sets_of(worlds(Promise.read(text))) if text in kept_in(text, one)]
+    return tuple(sorted(tuple(sorted(one)) for one in good if not any(one < other for other in good)))
+
+
+def agreeing(promise, known):
+    """All worlds that agree with what is known, a tuple of pairs."""
+    return tuple(world for world in worlds(promise) if all((fact in world) == truth for fact, truth in known))
+
+
+def kept_knowing(text, facts):
+    """Whether a promise is kept knowing some facts."""
+    promise = Promise.read(text)
+    return all(
+        text in kept_in(text, agreeing(promise, tuple((fact, fact in told) for fact in facts)))
+        for told in sets_of(facts)
+    )
+
+
+def least_facts(text):
+    """All least facts, found by asking for each part of the facts."""
+    enough = [one for one in sets_of(Promise.read(text).facts) if kept_knowing(text, one)]
+    return tuple(sorted(one for one in enough if not any(set(other) < set(one) for other in enough)))
+
+
+class Inquiry:
+    """A promise kept by asking, by recursion through all states, word by word as in [16.2]."""
+
+    def __init__(self, text):
+        self.text, self.promise, self.known_of = text, Promise.read(text), {}
+
+    def holds(self, position, known):
+        return holds_in(position, agreeing(self.promise, known))
+
+    def answers(self, known, fact):
+        return [tuple(sorted((*known, (fact, truth)))) for truth in (True, False)]
+
+    def unknown(self, known):
+        return [fact for fact in self.promise.facts if fact not in dict(known)]
+
+    def kept(self, position, known, left):
+        state = (position, known, left)
+        if state not in self.known_of:
+            self.known_of[state] = self.worked_out(position, known, left)
+        return self.known_of[state]
+
+    def worked_out(self, position, known, left):
+        if self.holds(position, known) and all(
+                self.kept(behind, known, left) for _, behind in ways(self.text, position, "caller")):
+            return True
+        if any(self.kept(behind, known, left) for _, behind in ways(self.text, position, "keeper")):
+            return True
+        return left > 0 and any(
+            all(self.kept(position, more, left - 1) for more in self.answers(known, fact))
+            for fact in self.unknown(known))
+
+    def is_plan(self, table, most):
+        """Whether a dict of proper entries is a plan."""
+        if (self.text, (), most) not in table:
+            return False
+        for (position, known, left), told in table.items():
+            if told is None:
+                behind = [(one, known, left) for _, one in ways(self.text, position, "caller")]
+                fine = self.holds(position, known)
+            elif isinstance(told, str):
+                fine = left > 0 and told in self.unknown(known)
+                behind = [(position, more, left - 1) for more in self.answers(known, told)]
+            else:
+                one = dict(ways(self.text, position, "keeper")).get(told)
+                fine, behind = one is not None, [(one, known, left)]
+            if not fine or any(one not in table for one in behind):
+                return False
+        return True
+
+    def is_counter(self, table, most):
+        """Whether a dict of proper entries is a counter."""
+        if (self.text, (), most) not in table:
+            return False
+        for (position, known, left), told in table.items():
+            if told[0] == "call":
+                one = dict(ways(self.text, position, "caller")).get(told[1:])
+                if (one, known, left) not in table:
+                    return False
+                continue
+            if told[1] not in agreeing(self.promise, known) or holds_in(position, (told[1],)):
+                return False
+            if any((one, known, left) not in table for _, one in ways(self.text, position, "keeper")):
+                return False
+            if left > 0 and not all(
+                    any((position, more, left - 1) in table for more in self.answers(known, fact))
+                    for fact in self.unknown(known)):
+                return False
+        return True
+
+
+def tidy(promise):
+    """The tidied promise, step by step as in [11.3]."""
+    if promise.parts == ():
+        return promise
+    kind, parts = promise.kind, [tidy(one) for one in promise.parts]
+    while True:
+        after = tidy_step(kind, parts)
+        if after == parts:
+            break
+        parts = after
+    if len(parts) > 1:
+        return Promise.of(kind, tuple(parts))
+    return parts[0] if parts else Promise.sure() if kind in ("all", "yours") else Promise.never()
+
+
+def tidy_step(kind, parts):
+    """The parts behind the first of the five steps that changes anything."""
+    sure, never = Promise.sure(), Promise.never()
+    for at, one in enumerate(parts):
+        if one.kind == kind and len(parts) - 1 + len(one.parts) <= 4:
+            return [*parts[:at], *one.parts, *parts[at + 1:]]
+    if len(parts) > 1 and kind in ("all", "yours") and never in parts:
+        return [never]
+    if len(parts) > 1 and kind in ("some", "mine") and sure in parts:
+        return [sure]
+    less = [one for one in parts if one != (sure if kind in ("all", "yours") else never)]
+    if less != parts:
+        return less
+    once = []
+    for one in parts:
+        if one in once and (kind in ("mine", "yours") or one.choices == 0):
+            continue
+        once.append(one)
+    if once != parts:
+        return once
+    return [Promise.read(text) for text in sorted(one.text for one in parts)]

@@ -5,11 +5,16 @@ import random
 from eitherhand.base.places import Surface
 from eitherhand.base.promises import KINDS, Promise
 from eitherhand.errors import InvalidPromise, InvalidWord, UnknownFact
+from eitherhand.given.asking import Asker
+from eitherhand.given.books import Book
 from eitherhand.keep.counters import Counter
 from eitherhand.keep.kept import Keeper
 from eitherhand.keep.plans import Plan
+from eitherhand.order.leads import Order
 from eitherhand.plain.worlds import Plain
 from eitherhand.play.runs import Play
+from eitherhand.text.shell import Shell
+from eitherhand.use.project import Project
 
 A = Promise.fact("a")
 PICK = Promise.read("[a + !a]")
@@ -58,7 +63,19 @@ def made():
     play.call("caller", (1,), 0)
     keeper = Keeper(COPY)
     keeper.hear((1,), 0)
-    return [Surface(COPY), Plain(COPY), play, Plan(COPY, COPY_PLAN), keeper, Counter(PICK, PICK_COUNTER)]
+    project = Project({"copy": COPY, "pick": PICK})
+    project.pin(("kept", "copy"))
+    shell = Shell()
+    shell.run_all("promise " + PICK.text, "keeper 0")
+    return [
+        Surface(COPY), Plain(COPY), play, Plan(COPY, COPY_PLAN), keeper, Counter(PICK, PICK_COUNTER),
+        Order(A, PICK), Book((A, PICK)), project, shell, Asker(PICK, 1),
+    ]
+
+
+def equal_ones(value):
+    """The names of the classes of those objects that are equal to a value."""
+    return [type(one).__name__ for one in made() if one == value]
 
 
 def sorts_but(*kept):

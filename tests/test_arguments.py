@@ -4,14 +4,19 @@ import itertools
 import unittest
 
 from eitherhand.base import places, words
+from eitherhand.base.promises import Promise
 from eitherhand.errors import (
-    InvalidCall, InvalidNumber, InvalidOperation, InvalidPlace, InvalidPlan, InvalidPromise, InvalidRun, InvalidWorld,
-    NotKept, NothingToUndo, UnknownFact,
+    InvalidBook, InvalidCall, InvalidNumber, InvalidOperation, InvalidPlace, InvalidPlan, InvalidPromise, InvalidRun,
+    InvalidWord, InvalidWorld, NotKept, NothingToUndo, ParseError, UnknownFact,
 )
+from eitherhand.given import asking, books, sets
 from eitherhand.keep import counters, fewest, kept, plans
+from eitherhand.order import leads, shapes
 from eitherhand.plain import worlds
 from eitherhand.play import runs
-from samples import COPY, COPY_PLAN, PICK, PICK_COUNTER, all_sorts, no_promises
+from eitherhand.text import shell, texts
+from eitherhand.use.project import Project
+from samples import A, COPY, COPY_PLAN, PICK, PICK_COUNTER, all_sorts, no_promises
 
 RUN = (("caller", (1,), 0), ("keeper", (0,), 0))
 PICKED = (("keeper", (), 0),)
@@ -44,6 +49,43 @@ TWELVE = (2, InvalidNumber, [*but(0, 1, 2, 3, 4, 5, 7), 13, -1])
 MOST = (2, InvalidNumber, [*but(0, 1, 2, 3, 4, 5, 7), 11, -1])
 LEAST = (1, InvalidNumber, [*but(1, 2, 3, 4, 5, 7), 12, 0])
 ANY = (None, None, [])
+INDEX = (1, InvalidNumber, [*but(0, 1), 2, -1])
+SELF_PLAN = ({"(!a | a)": None}, InvalidPlan, [*but(), {}, {"(a | !a)": None}, {"(!a | a)": ((), 0)}])
+SPREADING = (Promise.read("(a & [b + c])"), InvalidPromise, no_promises())
+PATH = ((), InvalidPlace, [*but(()), (True,), (2,), (-1,), (0, 0), [1], (1, 2)])
+SET = (((), ("a",)), InvalidWorld, [*but(()), (("a",), ()), ((), ()), [()], (["a"],), (("c",),), (("b", "a"),)])
+FACTS = (("a",), InvalidOperation, [*but((), ("a",)), ("b", "a"), ("a", "a"), ["a"], ("A",), ("yes",)])
+BOOK = ((A, PICK), InvalidBook, [
+    *[value for value in but() if not books.is_book(value)], (A,) * 4, [A], (A, "a"), books.Book((A,))])
+NAME = ("copy", UnknownFact, [*but(), "pic", "picks"])
+NEW_NAME = ("more", InvalidWord, [*[value for value in but() if not words.is_fact(value)], "Copy", "nineletter"])
+NAMED = ({"a": A}, InvalidBook, [*but(), {"A": A}, {"a": "a"}, {**{"abcdefg"[at]: A for at in range(7)}}, [("a", A)]])
+SAYING = (("barred", "pick"), InvalidOperation, [*but(), ("barred", "more"), ["barred", "pick"], ("need", "copy", 11)])
+FORM = ("world", InvalidWord, [*but(), "Plan", "promises"])
+VALUE = (("a",), InvalidOperation, [*but((), ("a",)), ("b", "a"), ["a"]])
+LINE = ("a b", ParseError, [*but("a", "rain", "all", "some", "mine", "yours", "fact", "not", "keeper", "caller"), "b a"])
+COMMAND = ("show", InvalidOperation, [value for value in but() if not isinstance(value, str)])
+ASKED = (2, InvalidNumber, [*but(0, 1, 2, 3, 4, 5), 7, -1])
+CALLER_PLACE = ((), InvalidCall, [*but(()), (0,)])
+CALLER_INDEX = (1, InvalidCall, [*but(0, 1), 2])
+LATER = Promise.read("[[a + !a] * [b + !b]]")
+
+
+def project():
+    """A project in which a saying is pinned."""
+    found = Project({"copy": COPY, "pick": PICK})
+    found.pin(("kept", "copy"))
+    return found
+
+
+def asker():
+    """A keeper who can ask twice."""
+    return asking.Asker(LATER, 2)
+
+
+def of_new(make, word):
+    """A function that calls a method of an object that is new each time."""
+    return lambda *told: getattr(make(), word)(*told)
 
 
 def first_of(generator):
@@ -125,13 +167,77 @@ FUNCTIONS = {
     "sparing_plan": (fewest.sparing_plan, [PROMISE]),
     "is_sparing": (fewest.is_sparing, [PROMISE, ANY]),
     "sparing_calls": (fewest.sparing_calls, [PROMISE]),
+    "bridge": (leads.bridge, [PROMISE, PROMISE]),
+    "leads": (leads.leads, [PROMISE, PROMISE]),
+    "are_alike": (leads.are_alike, [PROMISE, PROMISE]),
+    "order_paper": (leads.order_paper, [PROMISE, PROMISE]),
+    "is_order_paper": (leads.is_order_paper, [PROMISE, PROMISE, ANY]),
+    "copy_table": (leads.copy_table, [PROMISE]),
+    "joined_plan": (leads.joined_plan, [(A, *PROMISE[1:])] * 3 + [SELF_PLAN, SELF_PLAN]),
+    "Order": (leads.Order, [PROMISE, PROMISE, PROMISE]),
+    "below": (leads.Order(A, PICK).below, [INDEX]),
+    "above": (leads.Order(A, PICK).above, [INDEX]),
+    "with_promise": (leads.Order(A, PICK).with_promise, [PROMISE]),
+    "branch_at": (shapes.branch_at, [SPREADING, PATH]),
+    "paths": (shapes.paths, [PROMISE]),
+    "exchanged": (shapes.exchanged, [SPREADING, PATH, PROMISE]),
+    "join": (shapes.join, [PROMISE, PROMISE, PROMISE]),
+    "meet": (shapes.meet, [PROMISE, PROMISE]),
+    "tidied": (shapes.tidied, [PROMISE]),
+    "spread": (shapes.spread, [SPREADING, PATH, INDEX]),
+    "is_exchange": (shapes.is_exchange, [SPREADING, PATH, PROMISE, ANY]),
+    "is_world_set": (sets.is_world_set, [PROMISE, ANY]),
+    "is_kept_in": (sets.is_kept_in, [PROMISE, SET]),
+    "set_paper": (sets.set_paper, [PROMISE, SET]),
+    "is_set_paper": (sets.is_set_paper, [PROMISE, SET, ANY]),
+    "greatest_sets": (sets.greatest_sets, [PROMISE]),
+    "is_kept_alone": (sets.is_kept_alone, [PROMISE]),
+    "is_kept_knowing": (sets.is_kept_knowing, [PROMISE, FACTS]),
+    "least_facts": (sets.least_facts, [PROMISE]),
+    "knowing_paper": (sets.knowing_paper, [PROMISE, FACTS]),
+    "is_knowing_paper": (sets.is_knowing_paper, [PROMISE, FACTS, ANY]),
+    "claim": (books.claim, [BOOK, PROMISE]),
+    "follows": (books.follows, [BOOK, PROMISE]),
+    "needed": (books.needed, [BOOK, PROMISE]),
+    "least_parts": (books.least_parts, [BOOK, PROMISE]),
+    "book_paper": (books.book_paper, [BOOK, PROMISE]),
+    "is_book_paper": (books.is_book_paper, [BOOK, PROMISE, ANY]),
+    "without_any": (books.without_any, [BOOK, PROMISE]),
+    "Book": (books.Book, [BOOK]),
+    "with_given": (books.Book((A, PICK)).with_given, [PROMISE]),
+    "without_given": (books.Book((A, PICK)).without_given, [INDEX]),
+    "keeps": (books.Book((A, PICK)).keeps, [PROMISE]),
+    "Book[]": (lambda index: books.Book((A, PICK))[index], [INDEX]),
+    "Project": (Project, [NAMED]),
+    "Project.put": (of_new(project, "put"), [NEW_NAME, PROMISE]),
+    "remove": (of_new(project, "remove"), [("pick", *NAME[1:])]),
+    "rename": (of_new(project, "rename"), [NAME, NEW_NAME]),
+    "Project.call": (of_new(project, "call"), [("pick", *NAME[1:]), CALLER_PLACE, CALLER_INDEX]),
+    "pin": (of_new(project, "pin"), [SAYING]),
+    "unpin": (of_new(project, "unpin"), [(("kept", "copy"), *SAYING[1:])]),
+    "Project.does_hold": (of_new(project, "does_hold"), [SAYING]),
+    "trial": (of_new(project, "trial"), [(("remove", "pick"), InvalidOperation, [*but(), ("undo",), ["pin", ()]])]),
+    "write": (texts.write, [FORM, VALUE]),
+    "read": (texts.read, [FORM, LINE]),
+    "is_written": (texts.is_written, [FORM, ANY]),
+    "run": (of_new(shell.Shell, "run"), [COMMAND]),
+    "run_all": (of_new(shell.Shell, "run_all"), [COMMAND, COMMAND]),
+    "is_kept_asking": (asking.is_kept_asking, [PROMISE, ASKED]),
+    "questions": (asking.questions, [PROMISE]),
+    "asking_paper": (asking.asking_paper, [PROMISE, ASKED]),
+    "is_asking_paper": (asking.is_asking_paper, [PROMISE, ASKED, ANY]),
+    "good_questions": (asking.good_questions, [PROMISE, ASKED]),
+    "Asker": (asking.Asker, [PROMISE, ASKED]),
+    "Asker.hear": (of_new(asker, "hear"), [CALLER_PLACE, CALLER_INDEX]),
+    "tell": (of_new(asker, "tell"), [FACT, TRUTH]),
 }
 JUDGES = {
     "is_integer": words.is_integer, "is_fact": words.is_fact, "is_hand": words.is_hand, "is_move": runs.is_move,
-    "is_run": runs.is_run,
+    "is_run": runs.is_run, "is_tidy": shapes.is_tidy, "is_book": books.is_book,
     **{name: (lambda value, name=name: FUNCTIONS[name][0](*[told[0] for told in FUNCTIONS[name][1][:-1]], value))
        for name in ("is_call", "is_position", "is_world", "is_plan", "is_kept_paper", "is_counter", "is_habit",
-                    "is_most_table", "is_least_table", "is_sparing")},
+                    "is_most_table", "is_least_table", "is_sparing", "is_order_paper", "is_exchange", "is_world_set",
+                    "is_set_paper", "is_knowing_paper", "is_book_paper", "is_written", "is_asking_paper")},
 }
 
 

@@ -6,15 +6,25 @@ from eitherhand.base.places import (
     Surface, called, calls, hand_of, is_position, part_at, positions, replaced, surface,
 )
 from eitherhand.base.promises import Promise
-from eitherhand.errors import ParseError
+from eitherhand.errors import ParseError, Refused
+from eitherhand.given.asking import Asker, good_questions, is_asking_paper, is_kept_asking, questions
+from eitherhand.given.books import Book, claim, follows, least_parts, needed
+from eitherhand.given.sets import (
+    greatest_sets, is_kept_alone, is_kept_in, is_kept_knowing, is_set_paper, knowing_paper, least_facts, set_paper,
+)
 from eitherhand.keep.counters import Counter, caller_wins, due_counter, is_counter, last_world, meeting
 from eitherhand.keep.fewest import is_least_table, is_most_table, need, needs, sparing_calls
 from eitherhand.keep.kept import Keeper, good_calls, hurting_calls, is_kept, kept_paper, may_wait
 from eitherhand.keep.plans import Plan, answered, due_call, is_plan
+from eitherhand.order.leads import Order, bridge, copy_table, leads, order_paper
+from eitherhand.order.shapes import branch_at, exchanged, is_tidy, join, paths, spread, tidied
 from eitherhand.plain.worlds import (
     Plain, are_equal_plain, does_depend, false_worlds, is_stable, plain_form, with_truth, worlds,
 )
 from eitherhand.play.runs import count_runs, delays, first_wrong, is_delay, moves_at, played, winner
+from eitherhand.text.shell import Shell
+from eitherhand.text.texts import read, write
+from eitherhand.use.project import Project
 
 PICK = Promise.read("[a + !a]")
 COPY = Promise.read("([a + b] | [!a * !b])")
@@ -123,6 +133,109 @@ class ExamplesTest(unittest.TestCase):
             [is_least_table(COPY, 1, {COPY.text: 1, half.text: 1}), is_most_table(half, 1, {half.text: 1, "(a | !a)": 0}),
              is_most_table(half, 0, {half.text: 0})],
             [True, True, False],
+        )
+
+    def test_the_order(self):
+        one, more, less = Promise.read("a"), Promise.read("[a + b]"), Promise.read("[a * b]")
+        order = Order(one, more, less)
+        self.assertEqual(
+            [order.pairs, order.classes, order.links(), order.above(2), str(order), bridge(one, more).text,
+             leads(more, one), order_paper(more, one)[0]],
+            [((0, 0), (0, 1), (1, 1), (2, 0), (2, 1), (2, 2)), ((0,), (1,), (2,)), ((0, 1), (2, 0)), (0, 1),
+             "3 promises, 3 classes", "(!a | [a + b])", False, "not"],
+        )
+        self.assertEqual(
+            copy_table(more),
+            {"(!a | [a + b])": ((1,), 0), "(!a | a)": None, "(!b | [a + b])": ((1,), 1), "(!b | b)": None,
+             "([!a * !b] | [a + b])": None},
+        )
+
+    def test_shapes(self):
+        self.assertEqual(
+            [tidied(Promise.read("((a & yes) & [b + no])")).text, tidied(PICK).text, is_tidy(PICK),
+             branch_at(COPY, (1, 0)).text, paths(PICK)],
+            ["(a & b)", "[!a + a]", False, "!a", ((), (0,), (1,))],
+        )
+        self.assertEqual(
+            [exchanged(COPY, (0,), Promise.read("c")).text, join(PICK, COPY).text,
+             spread(Promise.read("(a & [b + c])"), (), 1).text],
+            ["(c | [!a * !b])", "[[a + !a] + ([a + b] | [!a * !b])]", "[(a & b) + (a & c)]"],
+        )
+
+    def test_sets_of_worlds(self):
+        self.assertEqual(
+            [is_kept_in(PICK, ((), ("a",))), is_kept_alone(PICK), greatest_sets(PICK), least_facts(PICK),
+             greatest_sets(Promise.read("[a * !a]"))],
+            [False, True, (((),), (("a",),)), (("a",),), ((),)],
+        )
+        self.assertEqual(
+            [set_paper(PICK, ((),))[0], is_set_paper(PICK, ((),), ("kept", {"[a + !a]": ((), 1), "!a": None})),
+             is_kept_knowing(PICK, ("a",)), knowing_paper(PICK, ())[0]],
+            ["kept", True, True, "barred"],
+        )
+
+    def test_books(self):
+        once, both = Promise.read("[b * c]"), Promise.read("([b * c] & [b * c])")
+        self.assertEqual(
+            [follows((once,), both), follows((once, once), both), needed((once, once), both),
+             least_parts((once, Promise.fact("b")), Promise.fact("b")), str(claim((once,), Promise.fact("c")))],
+            [False, True, (0, 1), ((0,), (1,)), "([!b + !c] | c)"],
+        )
+        book = Book((once, both))
+        self.assertEqual(
+            [str(book), book.facts, book.keeps(once),
+             follows((Promise.read("[b + c]"),), Promise.read("([b + c] & [b + c])"))],
+            ["[b * c]; ([b * c] & [b * c])", ("b", "c"), True, True],
+        )
+
+    def test_a_live_book(self):
+        project = Project({"copy": COPY, "pick": PICK})
+        self.assertEqual(
+            [project.pin(("kept", "copy")), project.call("copy", (1,), 0), project.promises["copy"].text, project.log,
+             project.does_hold(("need", "copy", 0))],
+            [(), (), "([a + b] | !a)", ("pin", "call"), False],
+        )
+        self.assertEqual(
+            [project.call("pick", (), 0), project.put("more", COPY), project.remove("pick"), project.undo(many=3),
+             str(project)],
+            [(), (("more", "new"),), (("pick", "gone"),), (("more", "gone"), ("pick", "new")),
+             "2 promises, 1 sayings"],
+        )
+        with self.assertRaises(Refused) as caught:
+            project.call("copy", (0,), 1)
+        self.assertEqual(caught.exception.cause, ("kept", "copy"))
+
+    def test_texts_and_a_shell(self):
+        self.assertEqual(
+            [write("run", (("caller", (1,), 0), ("keeper", (0,), 1))),
+             write("counter", {"[a + !a]": ("rest", ()), "a": ("rest", ())}), read("call", "1.0.2"), read("world", "-")],
+            ["c1.0 k0.1", "[a + !a]: rest -; a: rest -", ((1, 0), 2), ()],
+        )
+        shell = Shell()
+        self.assertEqual(
+            shell.run_all("show", "promise ([a + b] | [!a * !b])", "kept", "need", "caller 1.0", "calls keeper", "good",
+                          "holds a", "keeper 0.1", "kept", "back 1", "facts", "oops", "run"),
+            ("error InvalidOperation", "ok", "yes", "1", "([a + b] | !a)", "0.0 0.1", "0.0", "no", "(b | !a)", "no",
+             "([a + b] | !a)", "-", "error ParseError", "c1.0"),
+        )
+
+    def test_asking(self):
+        later = Promise.read("[[a + !a] * [b + !b]]")
+        self.assertEqual(
+            [questions(PICK), questions(later), least_facts(later), questions(COPY), is_kept_asking(later, 0),
+             good_questions(later, 1), questions(Promise.read("[a * b]"))],
+            [1, 1, (("a", "b"),), 0, False, (), None],
+        )
+        self.assertIs(
+            is_asking_paper(PICK, 1, ("plan", {
+                (PICK.text, (), 1): "a", (PICK.text, (("a", True),), 0): ((), 0),
+                (PICK.text, (("a", False),), 0): ((), 1), ("a", (("a", True),), 0): None,
+                ("!a", (("a", False),), 0): None})), True,
+        )
+        asker = Asker(later, 1)
+        self.assertEqual(
+            [asker.wish(), asker.hear((), 1), asker.wish(), asker.tell("b", False), asker.go(), str(asker)],
+            [None, None, "b", None, ((), 1), "!b, 1 known, 0 left"],
         )
 
     def test_the_promises_of_most_examples(self):

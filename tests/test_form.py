@@ -128,7 +128,7 @@ class FormTest(unittest.TestCase):
                     self.assertIsInstance(node.args[1], (ast.Name, ast.Tuple), (path, node.lineno))
 
     def test_methods_of_builtin_values(self):
-        let = set("append extend get index items join pop replace setdefault split startswith values".split())
+        let = set("append extend get index items join partition pop replace setdefault split startswith values".split())
         own = {node.name for _, tree in trees() for node in ast.walk(tree) if isinstance(node, ast.FunctionDef)}
         for path, tree in trees():
             for node in ast.walk(tree):
@@ -190,6 +190,57 @@ class FormTest(unittest.TestCase):
             told = {alias.name for node in tree.body if isinstance(node, ast.ImportFrom) for alias in node.names}
             used = {node.id for node in ast.walk(tree) if isinstance(node, ast.Name)}
             self.assertLessEqual(told, used, path)
+
+    def test_lists_and_dicts_of_a_module_are_only_read(self):
+        tables = {}
+        for path, tree in trees():
+            for node in tree.body:
+                if isinstance(node, ast.Assign) and isinstance(node.value, (ast.Dict, ast.List)):
+                    tables[node.targets[0].id] = path
+        self.assertIn("SIGNS", tables)
+        for path, tree in trees():
+            around = {inner: node for node in ast.walk(tree) for inner in ast.iter_child_nodes(node)}
+            for node in ast.walk(tree):
+                if isinstance(node, ast.Name) and isinstance(node.ctx, ast.Load) and node.id in tables:
+                    outer = around[node]
+                    read = isinstance(outer, ast.Subscript) and outer.value is node and isinstance(outer.ctx, ast.Load)
+                    asked = isinstance(outer, ast.Compare) and all(isinstance(one, (ast.In, ast.NotIn)) for one in outer.ops)
+                    self.assertTrue(read or asked, (path, node.lineno, node.id))
+
+    def test_words_that_do_not_occur(self):
+        barred = set(
+            "register mro elements open input law version_info with_traceback add_note type typing enum Enum Flag Generic "
+            "Protocol ABC namedtuple dataclass overload contextmanager attrgetter builtins compile dir eval exec exit gc "
+            "globals help id importlib license locals os quit sys vars hash round filter".split()
+        )
+        for path, tree in trees():
+            named = set()
+            for node in ast.walk(tree):
+                for field in ("id", "attr", "arg", "name"):
+                    named.add(getattr(node, field, None))
+                if isinstance(node, ast.Constant) and isinstance(node.value, str) and " " not in node.value:
+                    named.add(node.value)
+            self.assertFalse(barred & named, path)
+            for name in named - {None}:
+                self.assertTrue(not name.startswith("__") or name.endswith("__"), (path, name))
+
+    def test_errors_that_are_caught(self):
+        own = {node.name for node in ast.parse((PACKAGE / "errors.py").read_text()).body if isinstance(node, ast.ClassDef)}
+        for path, tree in trees():
+            for node in ast.walk(tree):
+                if isinstance(node, ast.ExceptHandler):
+                    self.assertIn(node.type.id, own, path)
+                    self.assertIsNone(node.name, path)
+                self.assertNotIsInstance(node, (ast.GeneratorExp, ast.Lambda), path)
+                if isinstance(node, ast.Raise):
+                    self.assertIn(node.exc.func.id, own, (path, node.lineno))
+
+    def test_keywords_of_builtins(self):
+        let = {"sorted": {"key", "reverse"}, "min": {"key", "default"}, "max": {"key", "default"}, "sum": {"start"}}
+        for path, tree in trees():
+            for node in ast.walk(tree):
+                if isinstance(node, ast.Call) and isinstance(node.func, ast.Name) and node.func.id in BUILTINS:
+                    self.assertLessEqual({one.arg for one in node.keywords}, let.get(node.func.id, set()), (path, node.lineno))
 
     def test_python_itself_gives_no_warning(self):
         with warnings.catch_warnings():

@@ -4,6 +4,10 @@ import importlib
 import inspect
 import unittest
 
+from eitherhand.base.promises import Promise
+from eitherhand.given.asking import Asker
+from eitherhand.text.shell import Shell
+
 FUNCTIONS = {
     "eitherhand.base.words": {
         "is_integer": ["value"], "is_fact": ["value"], "is_hand": ["value"], "other_hand": ["hand"],
@@ -45,6 +49,34 @@ FUNCTIONS = {
         "is_least_table": ["promise", "many", "value"], "cost": ["promise", "plan"], "sparing_plan": ["promise"],
         "is_sparing": ["promise", "value"], "sparing_calls": ["promise"],
     },
+    "eitherhand.order.leads": {
+        "bridge": ["one", "other"], "leads": ["one", "other"], "are_alike": ["one", "other"],
+        "order_paper": ["one", "other"], "is_order_paper": ["one", "other", "value"], "copy_table": ["promise"],
+        "joined_plan": ["one", "middle", "other", "first", "second"],
+    },
+    "eitherhand.order.shapes": {
+        "branch_at": ["promise", "path"], "paths": ["promise"], "exchanged": ["promise", "path", "other"],
+        "join": ["*promises"], "meet": ["*promises"], "tidied": ["promise"], "is_tidy": ["value"],
+        "spread": ["promise", "path", "index"], "is_exchange": ["promise", "path", "other", "value"],
+    },
+    "eitherhand.given.sets": {
+        "is_world_set": ["promise", "value"], "is_kept_in": ["promise", "worlds"], "set_paper": ["promise", "worlds"],
+        "is_set_paper": ["promise", "worlds", "value"], "greatest_sets": ["promise"], "is_kept_alone": ["promise"],
+        "is_kept_knowing": ["promise", "facts"], "least_facts": ["promise"], "knowing_paper": ["promise", "facts"],
+        "is_knowing_paper": ["promise", "facts", "value"],
+    },
+    "eitherhand.given.books": {
+        "is_book": ["value"], "claim": ["book", "promise"], "follows": ["book", "promise"],
+        "needed": ["book", "promise"], "least_parts": ["book", "promise"], "book_paper": ["book", "promise"],
+        "is_book_paper": ["book", "promise", "value"], "without_any": ["book", "promise"],
+    },
+    "eitherhand.text.texts": {
+        "write": ["form", "value"], "read": ["form", "text"], "is_written": ["form", "value"],
+    },
+    "eitherhand.given.asking": {
+        "is_kept_asking": ["promise", "most"], "questions": ["promise"], "asking_paper": ["promise", "most"],
+        "is_asking_paper": ["promise", "most", "value"], "good_questions": ["promise", "most"],
+    },
 }
 CONSTANTS = {
     "eitherhand.base.words": {"MAX_LETTERS": 8, "HANDS": ("caller", "keeper")},
@@ -55,6 +87,10 @@ CONSTANTS = {
     "eitherhand.play.runs": {"MAX_MOVES": 12, "HANDS": ("caller", "keeper")},
     "eitherhand.keep.kept": {"MAX_POSITIONS": 20000},
     "eitherhand.keep.fewest": {"MAX_CALLS": 10},
+    "eitherhand.given.sets": {"MAX_SETS": 2000},
+    "eitherhand.given.books": {"MAX_GIVEN": 3},
+    "eitherhand.use.project": {"MAX_NAMES": 6, "MAX_SAYINGS": 10, "MAX_CHANGES": 200},
+    "eitherhand.given.asking": {"MAX_KEYS": 20000},
 }
 ERRORS = (
     "PromiseError", "InvalidWord", "InvalidPromise", "InvalidPlace", "InvalidCall", "InvalidRun", "InvalidWorld",
@@ -97,12 +133,37 @@ CLASSES = {
     "Counter": (
         "eitherhand.keep.counters", ["promise", "table"], ["promise", "table", "rests"], {"at": ["text"], "lean": []}, {},
     ),
+    "Order": (
+        "eitherhand.order.leads", ["*promises"], ["promises", "pairs", "classes"],
+        {"below": ["index"], "above": ["index"], "links": [], "with_promise": ["promise"]}, {},
+    ),
+    "Book": (
+        "eitherhand.given.books", ["promises"], ["promises", "facts"],
+        {"with_given": ["promise"], "without_given": ["index"], "joined": [], "keeps": ["promise"],
+         "__getitem__": ["index"]}, {},
+    ),
+    "Project": (
+        "eitherhand.use.project", ["promises"], ["promises", "sayings", "log"],
+        {"put": ["name", "promise"], "remove": ["name"], "rename": ["name", "other"], "call": ["name", "place", "index"],
+         "pin": ["saying"], "unpin": ["saying"], "does_hold": ["saying"], "trial": ["*changes"], "undo": ["=many"],
+         "redo": ["=many"], "twin": []}, {},
+    ),
+    "Shell": (
+        "eitherhand.text.shell", [], ["position", "lines"], {"run": ["line"], "run_all": ["*lines"]}, {},
+    ),
+    "Asker": (
+        "eitherhand.given.asking", ["promise", "most"], ["promise", "position", "known", "left"],
+        {"wish": [], "hear": ["place", "index"], "tell": ["fact", "truth"], "go": []}, {},
+    ),
 }
+# Of some classes the methods of OPERATORS that they need not have.
+WITHOUT = {"Shell": ("__contains__",), "Asker": ("__len__", "__iter__", "__contains__")}
+SIGNS = {inspect.Parameter.VAR_POSITIONAL: "*", inspect.Parameter.KEYWORD_ONLY: "="}
 
 
 def parameters(function):
-    """The names of the parameters."""
-    return list(inspect.signature(function).parameters)
+    """The names of the parameters, those that take the rest and those after `*` with a sign."""
+    return [SIGNS.get(one.kind, "") + name for name, one in inspect.signature(function).parameters.items()]
 
 
 class InterfaceTest(unittest.TestCase):
@@ -134,7 +195,8 @@ class InterfaceTest(unittest.TestCase):
             self.assertEqual(parameters(made), own)
             for listed in properties:
                 self.assertIsInstance(vars(made)[listed], property, (word, listed))
-            for listed, names in {**methods, **OPERATORS}.items():
+            wanted = {listed: names for listed, names in OPERATORS.items() if listed not in WITHOUT.get(word, ())}
+            for listed, names in {**methods, **wanted}.items():
                 self.assertTrue(inspect.isfunction(vars(made)[listed]), (word, listed))
                 self.assertEqual(parameters(vars(made)[listed])[1:], names, (word, listed))
                 self.assertIs(inspect.isgeneratorfunction(vars(made)[listed]), listed in GENERATORS, (word, listed))
@@ -146,6 +208,17 @@ class InterfaceTest(unittest.TestCase):
         for word in ("Play", "Keeper"):
             back = vars(getattr(importlib.import_module(CLASSES[word][0]), word))["back"]
             self.assertEqual(inspect.signature(back).parameters["many"].default, 1)
+        project = vars(importlib.import_module("eitherhand.use.project"))["Project"]
+        for word in ("undo", "redo"):
+            self.assertEqual(inspect.signature(vars(project)[word]).parameters["many"].default, 1)
+
+    def test_what_cannot_be_iterated_over(self):
+        made = Asker(Promise.read("[a + !a]"), 1)
+        for call in (lambda: iter(made), lambda: list(made), lambda: 1 in made, lambda: len(made), lambda: made[0]):
+            with self.assertRaises(TypeError):
+                call()
+        with self.assertRaises(TypeError):
+            Shell()[0]
 
 
 if __name__ == "__main__":

@@ -16,7 +16,7 @@ from eitherhand.keep.kept import (
 from eitherhand.keep.plans import is_plan
 from eitherhand.play.runs import played, winner
 from samples import (
-    A, COPY, COPY_PLAN, HALF, PICK, PICK_COUNTER, TEXTS, TWICE, all_sorts, made, no_promises, varied,
+    A, COPY, COPY_PLAN, HALF, PICK, PICK_COUNTER, TEXTS, TWICE, all_sorts, equal_ones, no_promises, varied,
 )
 import reference
 
@@ -304,7 +304,7 @@ class KeeperTest(unittest.TestCase):
         for value in [*all_sorts(), COPY, one.so_far]:
             self.assertIs(Keeper(COPY) == value, False)
             self.assertIs(Keeper(COPY) != value, True)
-        self.assertEqual([value == one for value in made()], [False, False, False, False, True, False])
+        self.assertEqual(equal_ones(one), ["Keeper"])
 
     def test_no_state_is_shared(self):
         keeper = Keeper(COPY)

@@ -8,7 +8,9 @@ from eitherhand.base import places
 from eitherhand.base.boards import Board
 from eitherhand.base.promises import Promise
 from eitherhand.errors import InvalidOperation, TooMany
+from eitherhand.given import asking, books, sets
 from eitherhand.keep import counters, fewest, kept, plans
+from eitherhand.order import leads, shapes
 from eitherhand.plain import worlds
 from eitherhand.play import runs
 
@@ -28,6 +30,9 @@ TEN = Promise.read(
 FOURS = Promise.read(f"(({FIVE} | {FIVE} | [a * !b * c * !d] | {FIVE}) | {FIVE} | [e * f * a * b] | {FIVE})")
 INNER = "[a * b * c * [a * b * c * no]]"
 NESTED = Promise.read(f"[{INNER} * {INNER} * {INNER} * {INNER}]")
+# Bridges from one side to the other one have 125 * 160 positions: just as many as are let.
+SIDE = Promise.read(f"({FIVE} & {FIVE} & {FIVE})")
+OTHER_SIDE = Promise.read(f"({FIVE} & {FOUR} & {FOUR} & {TWO})")
 HUGE = (OVER, FOURS, Promise.read(f"({FULL} & [a * a])"))
 
 
@@ -173,6 +178,109 @@ class LimitsTest(unittest.TestCase):
         calls = tuple((place, index) for place, index in places.calls(promise, "keeper") if index == 1)
         run = self.timed(lambda: counters.caller_wins(promise, table, calls))
         self.assertIsNone(self.timed(lambda: counters.due_counter(promise, table, run)))
+
+    def test_bridges_at_many_positions(self):
+        self.assertEqual([len(places.positions(one)) for one in (SIDE, OTHER_SIDE)], [125, 160])
+        for one, other in ((SIDE, OTHER_SIDE), (SIDE, SIDE)):
+            whole = self.timed(lambda: leads.bridge(one, other))
+            word, table = self.timed(lambda: leads.order_paper(one, other))
+            self.assertIs(self.timed(lambda: leads.leads(one, other)), word == "leads")
+            self.assertIs(self.timed(lambda: leads.are_alike(one, other)), word == "leads")
+            self.assertIs(self.timed(lambda: leads.is_order_paper(one, other, (word, table))), True)
+            self.assertEqual(kept.is_kept(whole), word == "leads")
+        table = self.timed(lambda: leads.copy_table(SIDE))
+        found = self.timed(lambda: leads.joined_plan(SIDE, SIDE, SIDE, table, table))
+        self.assertIs(self.timed(lambda: plans.is_plan(leads.bridge(SIDE, SIDE), found)), True)
+        self.assertIs(self.timed(lambda: shapes.is_exchange(SIDE, (), SIDE, found)), True)
+        self.assertEqual(self.timed(lambda: books.follows((SIDE,), SIDE)), True)
+        self.assertEqual(self.timed(lambda: books.least_parts((SIDE,), OTHER_SIDE)), ())
+        self.assertEqual(self.timed(lambda: books.needed((SIDE,), SIDE)), (0,))
+        self.assertEqual(self.timed(lambda: books.without_any((SIDE,), OTHER_SIDE)), (False,))
+        self.assertEqual(self.timed(lambda: books.book_paper((SIDE,), OTHER_SIDE))[0], "not")
+        others = [Promise.read(f"({FIVE} & {FIVE} & [a + b + c + {word}])") for word in "abef"]
+        order = self.timed(lambda: leads.Order(SIDE, *others, SIDE), most=12)
+        self.assertEqual([order.classes[0], len(order)], [(0, 5), 6])
+
+    def test_bridges_with_more_positions_than_are_let(self):
+        more = Promise.read(f"({FIVE} & {FOUR} & {FOUR} & [a + b])")
+        self.assertEqual(len(places.positions(more)), 240)
+        for call in (lambda: leads.bridge(SIDE, more), lambda: leads.leads(more, SIDE), lambda: leads.are_alike(SIDE, more),
+                     lambda: leads.order_paper(SIDE, more), lambda: leads.is_order_paper(SIDE, more, None),
+                     lambda: leads.copy_table(more), lambda: leads.joined_plan(SIDE, more, SIDE, None, None),
+                     lambda: leads.Order(more), lambda: leads.Order(SIDE, more), lambda: leads.Order(SIDE).with_promise(more),
+                     lambda: shapes.is_exchange(SIDE, (), more, None), lambda: books.follows((SIDE,), more),
+                     lambda: books.needed((SIDE,), more), lambda: books.least_parts((SIDE,), more),
+                     lambda: books.book_paper((SIDE,), more), lambda: books.is_book_paper((SIDE,), more, None),
+                     lambda: books.without_any((SIDE,), more), lambda: books.Book((SIDE,)).keeps(more)):
+            self.too_many(call)
+        # What asks for no position is answered all the same.
+        self.assertEqual(books.claim((SIDE,), more).parts, (-SIDE, more))
+        self.assertEqual(len(books.Book((SIDE, more)).joined().parts), 2)
+        for promise in (OVER, TEN, FOURS):
+            self.assertEqual(len(self.timed(lambda: shapes.paths(promise))), len(promise))
+            self.assertIs(self.timed(lambda: shapes.is_tidy(shapes.tidied(promise))), True)
+            self.assertEqual(shapes.exchanged(promise, (), SIDE), SIDE)
+            self.too_many(lambda: leads.leads(promise, Promise.sure()))
+            self.assertIs(sets.is_world_set(promise, ((),)), True)
+
+    def test_sets_at_many_positions(self):
+        for promise in (COPIED, -COPIED, FULL):
+            every = tuple(worlds.worlds(promise))
+            for chosen in ((), every[:1], every[1:]):
+                word, table = self.timed(lambda: sets.set_paper(promise, chosen))
+                self.assertIs(self.timed(lambda: sets.is_set_paper(promise, chosen, (word, table))), True)
+                self.assertIs(self.timed(lambda: sets.is_kept_in(promise, chosen)), word == "kept")
+            found = self.timed(lambda: sets.greatest_sets(promise), most=20)
+            self.assertEqual(found == (every,), kept.is_kept(promise))
+            self.assertIs(self.timed(lambda: sets.is_kept_alone(promise)), kept.is_kept(promise))
+            self.assertEqual(self.timed(lambda: sets.least_facts(promise)), ((),) if kept.is_kept(promise) else ())
+            paper = self.timed(lambda: sets.knowing_paper(promise, promise.facts), most=12)
+            self.assertIs(self.timed(lambda: sets.is_knowing_paper(promise, promise.facts, paper), most=12), True)
+
+    def test_greatest_sets_of_six_facts(self):
+        for text in (
+            "(([a + b + c + d] & [e + f + !a + !b]) | ([a + !b + c + e] & [b + !c + d + f]) | [a + !d + !f + e])",
+            "(([a * b] | [c + d]) & ([a * e] | [b + f]) & ([!a * c] | [d + f]) & ([!b * !c] | [!d + !e]))",
+            "([a * b * c * d] | ([a + b + e] & [c + d + f]) | [e * f * !e * !f] | ([!a + e + !b] & [!b + f + !d]))",
+            "(([!a + !f + !b + f] | [c + !d + !c + d]) | [[d * !e * !b * !a] * [!e * !f * b] * e])",
+            "([b * (!c & d) * [f + !d + f]] | [[a + !a] + [d * c * !c]] | [(!d | !f) + [e + !e]])",
+        ):
+            promise = Promise.read(text)
+            try:
+                found = self.timed(lambda: sets.greatest_sets(promise), most=20)
+            except TooMany as error:
+                self.assertEqual(error.limit, 2000)
+                continue
+            self.assertLessEqual(len(found), 2000)
+            for one in found[::50]:
+                self.assertIs(sets.is_kept_in(promise, one), True)
+
+    def test_asking_at_many_positions(self):
+        for promise in (COPIED, -COPIED, FULL):
+            for most in (1, 6):
+                self.assertIs(self.timed(lambda: asking.is_kept_asking(promise, most)), kept.is_kept(promise))
+                paper = self.timed(lambda: asking.asking_paper(promise, most), most=12)
+                self.assertIs(self.timed(lambda: asking.is_asking_paper(promise, most, paper), most=12), True)
+            self.assertEqual(self.timed(lambda: asking.questions(promise)), 0 if kept.is_kept(promise) else None)
+            self.assertEqual(self.timed(lambda: asking.good_questions(promise, 6)), promise.facts if kept.is_kept(promise) else ())
+        asker = self.timed(lambda: asking.Asker(COPIED, 6))
+        for place, index in places.calls(COPIED, "caller"):
+            if index == 1:
+                self.timed(lambda: asker.hear(place, index), most=1)
+                wish = self.timed(asker.wish, most=1)
+                while wish is not None:
+                    if isinstance(wish, str):
+                        asker.tell(wish, wish in ("a", "d"))
+                    else:
+                        self.assertEqual(asker.go(), wish)
+                    wish = asker.wish()
+        self.assertIs(worlds.does_hold(asker.position, tuple(
+            fact for fact in asker.position.facts if fact in ("a", "d"))), True)
+        for promise in (OVER, TEN, FOURS):
+            for call in (lambda: asking.is_kept_asking(promise, 0), lambda: asking.questions(promise),
+                         lambda: asking.asking_paper(promise, 1), lambda: asking.is_asking_paper(promise, 1, None),
+                         lambda: asking.good_questions(promise, 1), lambda: asking.Asker(promise, 6)):
+                self.too_many(call)
 
     def test_a_text_that_is_no_position(self):
         with self.assertRaises(InvalidOperation):

@@ -7,7 +7,7 @@ from eitherhand.base.promises import Promise
 from eitherhand.errors import InvalidCall, InvalidOperation, InvalidPlan, InvalidPromise, InvalidRun
 from eitherhand.keep.plans import Plan, answered, does_go_by, due_call, is_plan, taken_up
 from eitherhand.play.runs import winner
-from samples import A, COPY, COPY_PLAN, HALF, PICK, TWICE, all_sorts, made, no_promises, varied
+from samples import A, COPY, COPY_PLAN, HALF, PICK, TWICE, all_sorts, equal_ones, no_promises, varied
 import reference
 
 KEPT = [one for one in [COPY, HALF, *varied(21, 260, most=5)] if one.text in reference.kept(one.text)]
@@ -363,7 +363,7 @@ class PlanTest(unittest.TestCase):
         for value in [*all_sorts(), table, two]:
             self.assertIs(found[0] == value, False)
             self.assertIs(found[0] != value, True)
-        self.assertEqual([value == Plan(COPY, COPY_PLAN) for value in made()], [False, False, False, True, False, False])
+        self.assertEqual(equal_ones(Plan(COPY, COPY_PLAN)), ["Plan"])
 
     def test_refuses(self):
         for value in no_promises():

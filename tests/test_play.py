@@ -8,7 +8,7 @@ from eitherhand.errors import (
     InvalidCall, InvalidNumber, InvalidOperation, InvalidPromise, InvalidWorld, NothingToUndo,
 )
 from eitherhand.play.runs import Play, is_move, moves_at, played, winner
-from samples import A, COPY, TEXTS, TWICE, all_sorts, made, no_promises, varied
+from samples import A, COPY, TEXTS, TWICE, all_sorts, equal_ones, no_promises, varied
 import reference
 
 SOME = [*[Promise.read(text) for text in TEXTS], *varied(8, 40, facts="abc")]
@@ -156,7 +156,7 @@ class PlayTest(unittest.TestCase):
         for value in [*all_sorts(), COPY, ()]:
             self.assertIs(Play(TWICE) == value, False)
             self.assertIs(Play(TWICE) != value, True)
-        self.assertEqual([value == begun() for value in made()], [False, False, True, False, False, False])
+        self.assertEqual(equal_ones(begun()), ["Play"])
 
     def test_no_state_is_shared(self):
         one = begun()

@@ -18,7 +18,7 @@ class Board:
     The promise has the number 0, and each call leads to a greater number. By numbers, `texts`
     has the texts, `masks` the masks of the worlds of the promise in which the position holds,
     and `ways[hand]` the list of the pairs of each call of a hand, ascending, and of the number
-    to which it leads.
+    to which it leads. On a board that is narrowed some worlds alone count.
     """
 
     def __init__(self, nodes, limit):
@@ -31,6 +31,7 @@ class Board:
         self.full = full
         self.texts = laid["texts"]
         self.masks = laid["masks"]
+        self._wide = laid["masks"]
         self.ways = {hand: laid[hand] for hand in HANDS}
         self.numbers = {text: number for number, text in enumerate(self.texts)}
 
@@ -60,8 +61,22 @@ class Board:
             way.append((hand, call[0], call[1]))
         return tuple(reversed(list(way)))
 
+    def mask_of_worlds(self, worlds):
+        """The mask of some worlds of the promise."""
+        bits = {world: 1 << at for at, world in enumerate(self.world_list)}
+        return sum([bits[world] for world in worlds])
+
+    def worlds_in(self, mask):
+        """The ascending tuple of the worlds that have bits in a mask."""
+        return tuple([world for at, world in enumerate(self.world_list) if (mask >> at) & 1 == 1])
+
+    def narrow(self, mask):
+        """Let the worlds alone count that have bits in a mask: in all others everything holds now."""
+        outside = self.full - mask
+        self.masks = [wide | outside for wide in self._wide]
+
     def does_always_hold(self, number):
-        """Whether a position is stable."""
+        """Whether a position holds in all worlds that count."""
         return self.masks[number] == self.full
 
 

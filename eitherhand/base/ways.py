@@ -4,17 +4,28 @@ from eitherhand.base.nodes import end_of, parts_of
 from eitherhand.base.words import HANDS, is_index
 
 OPEN = ("all", "some")
+WITH_PARTS = ("all", "mine", "some", "yours")
 CALLED = {"caller": "yours", "keeper": "mine"}
 
 
 def start_at(nodes, place):
     """The index at which the part at a place starts, or None if the value is no place."""
-    if not isinstance(place, tuple):
+    return _start_along(nodes, place, OPEN)
+
+
+def branch_start(nodes, path):
+    """The index at which the part at a path starts, or None if the value is no path."""
+    return _start_along(nodes, path, WITH_PARTS)
+
+
+def _start_along(nodes, path, kinds):
+    """The index to which a path leads through nodes of some kinds, or None if there is no such path."""
+    if not isinstance(path, tuple):
         return None
     start = 0
-    for index in place:
+    for index in path:
         kind, told = nodes[start]
-        if kind not in OPEN or not is_index(index, told):
+        if kind not in kinds or not is_index(index, told):
             return None
         start = start + 1
         for _ in range(index):
@@ -34,18 +45,28 @@ def exchanged_from(nodes, start, other):
 
 def surface_of(nodes):
     """The list of the pairs of each place, ascending, and of the index at which its part starts."""
+    return _paths_along(nodes, OPEN)
+
+
+def paths_of(nodes):
+    """The ascending tuple of all paths."""
+    return tuple([path for path, _ in _paths_along(nodes, WITH_PARTS)])
+
+
+def _paths_along(nodes, kinds):
+    """The list of the pairs of each path through nodes of some kinds and of the index at its end."""
     found = []
-    places = [()]
+    paths = [()]
     start = 0
-    while places:
-        place = places.pop()
+    while paths:
+        path = paths.pop()
         kind, told = nodes[start]
-        found.append((place, start))
-        if kind in OPEN:
+        found.append((path, start))
+        if kind in kinds:
             start = start + 1
-            # The place that is added last is taken next.
+            # The path that is added last is taken next.
             for index in reversed(range(told)):
-                places.append(place + (index,))
+                paths.append(path + (index,))
         else:
             start = end_of(nodes, start)
     return found

@@ -26,6 +26,13 @@ def is_fact(value):
     return value not in ("yes", "no") and all(["a" <= letter <= "z" for letter in value])
 
 
+def is_fact_tuple(value):
+    """Whether the value is an ascending tuple of facts."""
+    if not isinstance(value, tuple) or not all([is_fact(word) for word in value]):
+        return False
+    return all([value[at] < value[at + 1] for at in range(len(value) - 1)])
+
+
 def is_hand(value):
     """Whether the value is one of the two hands."""
     return value in HANDS

@@ -68,6 +68,16 @@ def _does_fail(board, number, world):
     return (board.masks[number] >> board.world_list.index(world)) & 1 == 0
 
 
+def is_paper_on(board, words, value):
+    """Whether the value is a pair of the first word and a plan, or of the second one and a counter."""
+    if not isinstance(value, tuple) or len(value) != 2:
+        return False
+    word, table = value
+    if word == words[0]:
+        return is_plan_on(board, table)
+    return word == words[1] and is_counter_on(board, table)
+
+
 def is_habit_on(board, value):
     """Whether the value is a habit."""
     if not _are_keys(board, value):

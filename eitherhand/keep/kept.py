@@ -2,13 +2,12 @@
 
 from eitherhand.base.places import board_of, called
 from eitherhand.errors import InvalidCall, NotKept
-from eitherhand.keep.judging import is_counter_on, is_plan_on
-from eitherhand.keep.solving import (
-    calls_where, can_wait, counter_table, dues_of_counter, dues_of_plan, kept_on, plan_table,
-)
+from eitherhand.keep.judging import is_paper_on
+from eitherhand.keep.solving import calls_where, can_wait, dues_of_plan, kept_on, paper_on, plan_table
 from eitherhand.play.runs import check_undo, is_move
 
 MAX_POSITIONS = 20000
+PAPERS = ("plan", "counter")
 
 
 def is_kept(promise):
@@ -27,22 +26,12 @@ def plan_for(promise):
 
 def kept_paper(promise):
     """Some pair of the word `plan` and a plan, or of the word `counter` and a counter."""
-    board = board_of(promise)
-    kept = kept_on(board)
-    if kept[0]:
-        return ("plan", plan_table(board, dues_of_plan(board, kept)))
-    return ("counter", counter_table(board, dues_of_counter(board, kept)))
+    return paper_on(board_of(promise), PAPERS)
 
 
 def is_kept_paper(promise, value):
     """Whether the value is such a pair."""
-    board = board_of(promise)
-    if not isinstance(value, tuple) or len(value) != 2:
-        return False
-    word, table = value
-    if word == "plan":
-        return is_plan_on(board, table)
-    return word == "counter" and is_counter_on(board, table)
+    return is_paper_on(board_of(promise), PAPERS, value)
 
 
 def good_calls(promise):

@@ -92,6 +92,14 @@ def _false_world(board, number):
     return board.world_list[at]
 
 
+def paper_on(board, words):
+    """Some pair of the first word and a plan, or of the second one and a counter."""
+    kept = kept_on(board)
+    if kept[0]:
+        return (words[0], plan_table(board, dues_of_plan(board, kept)))
+    return (words[1], counter_table(board, dues_of_counter(board, kept)))
+
+
 def in_order(table):
     """The dict with ascending keys."""
     return {text: table[text] for text in sorted(list(table))}

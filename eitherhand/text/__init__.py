@@ -1,0 +1,1 @@
+"""Texts of all values, and a shell that is run by lines."""

@@ -1,0 +1,1 @@
+"""Promises in use: a book that changes."""
