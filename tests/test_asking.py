@@ -4,7 +4,7 @@ import itertools
 import random
 import unittest
 
-from eitherhand.base.places import called, calls
+from eitherhand.base.places import board_of, called, calls
 from eitherhand.base.promises import Promise
 from eitherhand.errors import (
     InvalidCall, InvalidNumber, InvalidOperation, InvalidPromise, NotKept, TooMany, UnknownFact,
@@ -14,6 +14,7 @@ from eitherhand.given.asking import (
     Asker, asking_paper, good_questions, is_asking_paper, is_kept_asking, questions,
 )
 from eitherhand.given.sets import is_kept_knowing, least_facts
+from eitherhand.given.states import Asking, asking_table
 from eitherhand.keep.kept import is_kept
 from samples import A, COPY, HALF, PICK, TEXTS, TWICE, all_sorts, equal_ones, no_promises, varied
 import reference
@@ -187,6 +188,7 @@ class PaperTest(unittest.TestCase):
             self.assertIs(is_asking_paper(PICK, 1, (word, {**table, answered: told})), False)
         # More questions left than at first are let, where they lead to keys.
         self.assertIs(is_asking_paper(PICK, 1, (word, {**table, ("a", (("a", True),), 6): None})), True)
+        self.assertIs(is_asking_paper(PICK, 1, (word, {**table, ("a", (("a", True),), 7): None})), False)
         self.assertIs(is_asking_paper(PICK, 1, (word, {**table, ("a", (), 6): None})), False)
         self.assertIs(is_asking_paper(A, 0, ("counter", {("a", (), 0): ("rest", ())})), True)
         self.assertIs(is_asking_paper(A, 0, ("counter", {("a", (), 0): ("rest", ()), ("a", (), 3): ("rest", ())})), False)
@@ -225,6 +227,16 @@ class PaperTest(unittest.TestCase):
         self.assertIs(is_asking_paper(A, 1, ("counter", {**table, ("a", (), 1): ("rest", ["a"])})), False)
         self.assertIs(is_asking_paper(A, 1, ("counter", {**table, ("a", (), 1): ("rest", (), 0)})), False)
         self.assertIs(is_asking_paper(A, 1, ("counter", {**table, ("a", (), 1): ("call", (), 0)})), False)
+        for told in ((), ("rest",), ("wait", ()), ("Rest", ()), (None, ()), ((), ()), ["rest", ()], "rest", None, ((), "rest")):
+            self.assertIs(is_asking_paper(A, 1, ("counter", {**table, ("a", (), 1): told})), False)
+
+    def test_calls_in_counters(self):
+        one = Promise.read("[a * b]")
+        table = {(one.text, (), 0): ("call", (), 1), ("b", (), 0): ("rest", ())}
+        self.assertIs(is_asking_paper(one, 0, ("counter", table)), True)
+        for told in (("call", (), 0), ("call", (), True), ("call", (), 2), ("wait", (), 1), (None, (), 1), ("call", ()), ("call", (), 1, 1),
+                     ("call",), ((), 1), ("call", ((), 1)), ["call", (), 1], ("call", [], 1), ("rest", (), 1), "call", None, ()):
+            self.assertIs(is_asking_paper(one, 0, ("counter", {**table, (one.text, (), 0): told})), False)
 
     def test_papers_made_at_random(self):
         rng = random.Random(84)
@@ -271,6 +283,16 @@ class PaperTest(unittest.TestCase):
         for value in all_sorts():
             for bad in (value, ("plan", value), ("counter", value), (value, {}), ("plan", {(PICK.text, (), 1): value})):
                 self.assertIs(is_asking_paper(PICK, 1, bad), False)
+
+    def test_a_lesser_limit_of_keys_is_met_exactly(self):
+        for promise in SOME:
+            for most in (0, 1, 2):
+                found = Asking(board_of(promise))
+                table = asking_table(found, (0, (), most), 10 ** 6)
+                self.assertEqual(asking_table(found, (0, (), most), len(table)), table)
+                with self.assertRaises(TooMany) as caught:
+                    asking_table(found, (0, (), most), len(table) - 1)
+                self.assertEqual(caught.exception.limit, len(table) - 1)
 
     def test_more_keys_than_are_let(self):
         self.assertEqual(module.MAX_KEYS, 20000)

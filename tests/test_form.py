@@ -207,6 +207,23 @@ class FormTest(unittest.TestCase):
                     asked = isinstance(outer, ast.Compare) and all(isinstance(one, (ast.In, ast.NotIn)) for one in outer.ops)
                     self.assertTrue(read or asked, (path, node.lineno, node.id))
 
+    def test_what_is_iterated_at_once(self):
+        takes = {"list", "tuple", "dict", "sorted", "sum", "any", "all", "enumerate", "zip", "min", "max", "reversed", "len"}
+        for path, tree in trees():
+            around = {inner: node for node in ast.walk(tree) for inner in ast.iter_child_nodes(node)}
+            for node in ast.walk(tree):
+                if not isinstance(node, ast.Call):
+                    continue
+                word = node.func.id if isinstance(node.func, ast.Name) else getattr(node.func, "attr", "")
+                own = isinstance(node.func, ast.Attribute) and word in ("items", "keys", "values")
+                if not own and not (isinstance(node.func, ast.Name) and word in ("range", "zip", "enumerate", "reversed")):
+                    continue
+                outer = around[node]
+                looped = isinstance(outer, (ast.For, ast.comprehension)) and outer.iter is node
+                given = isinstance(outer, ast.Call) and isinstance(outer.func, ast.Name) and outer.func.id in takes
+                kept = word == "range" and isinstance(outer, ast.Assign)
+                self.assertTrue(looped or given or kept, (path, node.lineno))
+
     def test_words_that_do_not_occur(self):
         barred = set(
             "register mro elements open input law version_info with_traceback add_note type typing enum Enum Flag Generic "

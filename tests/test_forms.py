@@ -160,7 +160,7 @@ class FormsTest(unittest.TestCase):
                      {"a": ("rest", ())}, {"a": None, "b": 1}, {"a": [(), 0]}, {"": None}, {"a": ((), 4)}, {("a",): None}, None],
             "counter": [{}, {"a": None}, {"a": ("rest", ["a"])}, {"a": ("rest", ("b", "a"))}, {"a": ["rest", ()]}, {"a": ("rest",)},
                         {"a": ("call", (), True)}, {"a": ("call", ((), 0))}, {"a": ((), 0)}, {"a": ("rest", (), ())}, {"a b": ("rest", ())},
-                        {"a": ("wait", ())}, {"a": ("call", ())}, {"a": ("rest", ()), "b": None}, {"a": ()}, {"a": (1, 2, 3)}, None],
+                        {"a": ("wait", ())}, {"a": ("wait", (), 0)}, {"a": ("call", ())}, {"a": ("rest", ()), "b": None}, {"a": ()}, {"a": (1, 2, 3)}, None],
         }
         for form, values in wrong.items():
             for value in values:

@@ -177,6 +177,8 @@ class ProjectTest(unittest.TestCase):
             self.assertNotIn(saying, project.sayings)
             self.refused(InvalidOperation, project, lambda: project.unpin(saying))
         self.assertEqual([project.sayings, str(project)], [(some[1], some[3], some[4], some[5]), "2 promises, 4 sayings"])
+        for call in (project.unpin, project.pin, project.does_hold):
+            self.refused(InvalidOperation, project, lambda: call(("need", "copy", True)))
         self.assertEqual(project.log, ("pin",) * 7 + ("unpin",) * 3)
 
     def test_sayings_that_do_not_hold(self):

@@ -3,7 +3,7 @@
 import random
 import unittest
 
-from eitherhand.base.places import positions
+from eitherhand.base.places import board_of, positions
 from eitherhand.base.promises import Promise
 from eitherhand.errors import (
     InvalidOperation, InvalidPromise, InvalidWorld, TooMany, UnknownFact,
@@ -255,16 +255,38 @@ class GreatestTest(unittest.TestCase):
             for family in heard:
                 plain = [part & chosen for part in plain for chosen in family]
             self.assertEqual(one, self.greatest_of([*plain, *calling]))
+            # What is found one by one is counted just as it is outside of what is within a call's sets.
+            outside = [part for part in self.greatest_of(plain) if not greatest.is_within(part, calling)]
+            self.assertEqual(sorted(greatest._searched(mask, heard, calling, len(outside))), sorted(outside))
+            if outside:
+                with self.assertRaises(TooMany) as caught:
+                    greatest._searched(mask, heard, calling, len(outside) - 1)
+                self.assertEqual(caught.exception.limit, len(outside) - 1)
 
     def greatest_of(self, masks):
         """The greatest ones of some masks."""
         return sorted({one for one in masks if not any(one & other == one != other for other in masks)}, reverse=True)
+
+    def test_a_lesser_limit_is_met_exactly(self):
+        for promise in [*THREE[:30], *varied(73, 30, most=5, facts="abcd")]:
+            board = board_of(promise)
+            most = max(len(greatest.greatest_on(board_of(Promise.read(text)), 10 ** 6)) for text in board.texts)
+            self.assertEqual(len(greatest.greatest_on(board, most)), len(greatest_sets(promise)))
+            with self.assertRaises(TooMany):
+                greatest.greatest_on(board, most - 1)
 
     def test_families(self):
         rng = random.Random(69)
         for _ in range(60):
             masks = [rng.getrandbits(rng.choice((4, 9))) | rng.getrandbits(9) for _ in range(rng.choice((1, 5, 200)))]
             self.assertEqual(greatest.family_of(masks), self.greatest_of(masks))
+        for _ in range(12):
+            masks = [rng.getrandbits(20) for _ in range(250)]
+            masks += [one & rng.getrandbits(20) for one in masks]
+            found = self.greatest_of(masks)
+            self.assertGreater(len(found), greatest.FEW)
+            masks += [one & ~(1 << rng.randrange(20)) for one in found]
+            self.assertEqual(greatest.family_of(masks), found)
 
     def test_six_facts(self):
         alone = Promise.read("(([a + !a] & [b + !b] & [c + !c]) & [d + !d] & [e + !e] & [f + !f])")
@@ -273,11 +295,19 @@ class GreatestTest(unittest.TestCase):
             "(([a + b] & [c + d]) | ([a + e] & [b + f]) | ([!a + c] & [d + f]) | ([!b + !c] & [!d + !e]))"))), 104)
 
     def test_more_than_are_let(self):
-        text = "([b * [c * e] * (e & c) * [c + !c]] | [[f * d * !c] + [!c * !b * !f * !a] + [e * e * e * d]] | [(!f & a) " \
-            "* !d * [d + e] * [!e * !e * a * b]])"
+        promise = Promise.read("([[c * !a] * [!d * d * b * !d]] | [!a + (d & !d) + [e + b] + !e] | [(c & !e) + (!c & !f) + "
+                               "[a * e * f]])")
         with self.assertRaises(TooMany) as caught:
-            greatest_sets(Promise.read(text))
+            greatest_sets(promise)
         self.assertEqual(caught.exception.limit, 2000)
+        board = board_of(promise)
+        found = greatest.greatest_on(board, 10 ** 6)
+        self.assertEqual([len(found), len(set(found))], [4431, 4431])
+        for mask in found[::400]:
+            self.assertIs(is_kept_in(promise, board.worlds_in(mask)), True)
+            for world in board.world_list:
+                more = mask | board.mask_of_worlds((world,))
+                self.assertIs(is_kept_in(promise, board.worlds_in(more)), more == mask)
         # More than 2000 lie on the way to fewer greatest sets.
         text = "(([e * !d * !c * !c] & [!f + !b + c] & [!d + a + c] & [!e * !c]) | [[!a + !e + d] + [!d + !f]])"
         found = greatest_sets(Promise.read(text))

@@ -23,7 +23,7 @@ SINGLE = ("show", "run", "good", "stable", "kept", "need", "plan", "counter", "f
 WITH_ITEMS = ("keeper 0.1", "caller 1.0", "back 0", "calls keeper", "calls caller", "holds -", "leads a")
 # Lines that are no commands, or have other items.
 BAD = [
-    "", " ", "oops", "Show", "SHOW", "show ", " show", "show  ", "show show", "show a", "run 1", "good -", "stable yes", "kept a",
+    "", " ", "oops", "oops keeper", "good keeper", "Show", "SHOW", "show ", " show", "show  ", "show show", "show a", "run 1", "good -", "stable yes", "kept a",
     "need 1", "plan a", "counter a", "facts a", "promise", "promise ", "promise  a", "promise a ", "promise a & b", "promise (a&b)",
     "promise A", "Promise a", "promise a a", "keeper", "keeper ", "keeper  0.1", "keeper 0.1 ", "keeper 4", "keeper 0,1", "keeper k0",
     "keeper -", "keeper 0.1 0.1", "keeper 01", "caller", "caller ", "caller x", "caller 1.0.", "Keeper 0.1", "back", "back ", "back 00",

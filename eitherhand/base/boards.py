@@ -61,10 +61,10 @@ class Board:
             way.append((hand, call[0], call[1]))
         return tuple(reversed(list(way)))
 
-    def mask_of_worlds(self, worlds):
+    def mask_of_worlds(self, chosen):
         """The mask of some worlds of the promise."""
         bits = {world: 1 << at for at, world in enumerate(self.world_list)}
-        return sum([bits[world] for world in worlds])
+        return sum([bits[world] for world in chosen])
 
     def worlds_in(self, mask):
         """The ascending tuple of the worlds that have bits in a mask."""

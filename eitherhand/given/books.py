@@ -61,8 +61,8 @@ def least_parts(book, promise):
     """The ascending tuple of the indices of all parts from which a promise follows, and from none within."""
     follows(book, promise)
     found = []
-    # Fewer indices come first, so whatever is found already may be within what comes.
-    for indices in sorted(worlds_of(range(len(book))), key=len):
+    # Indices are taken as worlds are; fewer ones come first, and can be within those that come later.
+    for indices in sorted(worlds_of(list(range(len(book)))), key=len):
         if not any([_is_part(one, indices) for one in found]) and _does_follow(book, promise, indices):
             found.append(indices)
     return tuple(sorted(found))
@@ -139,7 +139,7 @@ class Book:
         return self._promises[index]
 
     def __contains__(self, value):
-        return isinstance(value, Promise) and value in self._promises
+        return value in self._promises
 
     def __eq__(self, value):
         return isinstance(value, Book) and self._promises == value._promises

@@ -21,7 +21,7 @@ class Cubes:
             self._weights[fact] = weight
             weight = weight * 3
         self._start = weight - 1
-        self._halves = {fact: _halves_of(self._weights[fact], weight) for fact in board.words}
+        self._told = {fact: _cubes_told(self._weights[fact], weight) for fact in board.words}
         self._bits = [1 << self.number_of(answers_in(board.words, world)) for world in board.world_list]
         self._whole = {}
         self._by_question = {}
@@ -61,16 +61,14 @@ class Cubes:
 
     def _both(self, mask, fact):
         """The mask of the cubes from which both answers about a fact lead to cubes of a mask."""
-        denied, told = self._halves[fact]
         weight = self._weights[fact]
-        return ((mask & denied) << (2 * weight)) & ((mask & told) << weight)
+        # What lacks the fact is one weight above what knows it to be true, two above what denies it.
+        return (mask << (2 * weight)) & ((mask & self._told[fact]) << weight)
 
 
-def _halves_of(weight, many):
-    """The masks of the cubes that know a fact to be false, and to be true, by its weight."""
-    denied = [1 << number for number in range(many) if number // weight % 3 == 0]
-    told = [1 << number for number in range(many) if number // weight % 3 == 1]
-    return (sum(denied), sum(told))
+def _cubes_told(weight, many):
+    """The mask of the cubes that know a fact to be true, by its weight."""
+    return sum([1 << number for number in range(many) if number // weight % 3 == 1])
 
 
 def answers_in(facts, world):

@@ -20,13 +20,13 @@ def _are_worlds(facts, value):
     return all([value[at] < value[at + 1] for at in range(len(value) - 1)])
 
 
-def _board_within(promise, worlds):
+def _board_within(promise, chosen):
     """The board of a promise on which the worlds of a set alone count."""
     check_promise(promise)
-    if not _are_worlds(promise.facts, worlds):
+    if not _are_worlds(promise.facts, chosen):
         raise InvalidWorld("this is no set of worlds of the promise")
     board = board_of(promise)
-    board.narrow(board.mask_of_worlds(worlds))
+    board.narrow(board.mask_of_worlds(chosen))
     return board
 
 

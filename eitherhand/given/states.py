@@ -87,9 +87,9 @@ class Asking:
 
     def planned(self, state):
         """What a plan tells at a state that is kept, and the list of the states behind it."""
-        heard = [to for _, to in self.behind("caller", state)]
-        if self.failing(state) == 0 and all([self.is_kept(to) for to in heard]):
-            return (None, heard)
+        # What is kept stays kept behind each call of the caller's, so to hold is enough to wait.
+        if self.failing(state) == 0:
+            return (None, [to for _, to in self.behind("caller", state)])
         for call, to in self.behind("keeper", state):
             if self.is_kept(to):
                 return (call, [to])
@@ -173,17 +173,15 @@ def _is_countered(asking, table, state, told):
         return False
     if len(told) == 2 and told[0] == "rest":
         return _does_rest(asking, table, state, told[1])
-    if len(told) == 3 and told[0] == "call":
-        to = asking.behind_call("caller", state, told[1:])
-        return to is not None and _are_in(asking, table, [to])
-    return False
+    to = asking.behind_call("caller", state, told[1:]) if told[:1] == ("call",) else None
+    return to is not None and _are_in(asking, table, [to])
 
 
 def _does_rest(asking, table, state, world):
     """Whether a caller can rest at a state with a value as the world."""
     if world not in asking.board.worlds_in(asking.failing(state)):
         return False
-    answers = asking.behind_answers(state)
-    if not all([_are_in(asking, table, [one]) or _are_in(asking, table, [other]) for one, other in answers.values()]):
-        return False
+    for one, other in asking.behind_answers(state).values():
+        if asking.key_of(one) not in table and asking.key_of(other) not in table:
+            return False
     return _are_in(asking, table, [to for _, to in asking.behind("keeper", state)])

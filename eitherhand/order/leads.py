@@ -1,7 +1,7 @@
 """Which promises lead to others, and papers that show it."""
 
 from eitherhand.base.boards import Board
-from eitherhand.base.nodes import bracketed
+from eitherhand.base.nodes import bracketed, joined, turned
 from eitherhand.base.places import MAX_POSITIONS, board_of, check_promise
 from eitherhand.base.promises import Promise
 from eitherhand.base.words import is_index
@@ -13,14 +13,19 @@ MOST_PROMISES = 6
 PAPERS = ("leads", "not")
 
 
+def made_of(nodes):
+    """The promise with some nodes, of which there can be too many."""
+    try:
+        return Promise(nodes)
+    except InvalidPromise:
+        raise InvalidOperation("the promise would be too great") from None
+
+
 def bridged(one, other):
     """The bridge between two promises, however many positions it has."""
     check_promise(one)
     check_promise(other)
-    try:
-        return -one | other
-    except InvalidPromise:
-        raise InvalidOperation("the bridge would be too great") from None
+    return made_of(joined("some", [turned(one.nodes), other.nodes]))
 
 
 def _check_positions(one, other):
@@ -62,15 +67,16 @@ def copy_table(promise):
     """The plan of the bridge from a promise to itself that answers each call by the same one."""
     bridge(promise, promise)
     board = board_of(promise)
-    turned = [(-Promise.read(text)).text for text in board.texts]
+    against = [(-Promise.read(text)).text for text in board.texts]
     table = {}
     for number, text in enumerate(board.texts):
-        table[bracketed("some", [turned[number], text])] = None
+        table[bracketed("some", [against[number], text])] = None
         # The first one of the calls that lead to a text is the least one.
         for (place, index), behind in board.ways["keeper"][number]:
-            table.setdefault(bracketed("some", [turned[behind], text]), ((1,) + place, index))
+            table.setdefault(bracketed("some", [against[behind], text]), ((1,) + place, index))
         for (place, index), behind in board.ways["caller"][number]:
-            table.setdefault(bracketed("some", [turned[number], board.texts[behind]]), ((0,) + place, index))
+            other = board.texts[behind]
+            table.setdefault(bracketed("some", [against[number], other]), ((0,) + place, index))
     return in_order(table)
 
 
@@ -178,7 +184,7 @@ class Order:
         return iter(self._promises)
 
     def __contains__(self, value):
-        return isinstance(value, Promise) and value in self._promises
+        return value in self._promises
 
     def __eq__(self, value):
         return isinstance(value, Order) and self._promises == value._promises

@@ -1,27 +1,17 @@
 """Shapes: paths through promises, exchanged parts, joins and meets, tidied and spread promises."""
 
-from eitherhand.base.nodes import joined
+from eitherhand.base.nodes import LEAST_PARTS, MOST_PARTS, joined
 from eitherhand.base.places import board_of, check_promise
 from eitherhand.base.promises import Promise
 from eitherhand.base.ways import branch_start, exchanged_from, part_from, paths_of
 from eitherhand.base.words import is_index
-from eitherhand.errors import InvalidNumber, InvalidOperation, InvalidPlace, InvalidPromise
+from eitherhand.errors import InvalidNumber, InvalidOperation, InvalidPlace
 from eitherhand.keep.judging import is_plan_on
-from eitherhand.order.leads import bridged
+from eitherhand.order.leads import bridged, made_of
 from eitherhand.order.tidying import tidied_nodes
 
-LEAST_JOINED = 2
-MOST_JOINED = 4
 # A node of the first kind is spread over a part of the second one.
 SPREAD = (("all", "mine"), ("some", "yours"))
-
-
-def _made(nodes):
-    """The promise with some nodes, which can be too many."""
-    try:
-        return Promise(nodes)
-    except InvalidPromise:
-        raise InvalidOperation("the promise would be too great") from None
 
 
 def _start_of(promise, path):
@@ -49,16 +39,16 @@ def exchanged(promise, path, other):
     """The promise with another part at a path."""
     start = _start_of(promise, path)
     check_promise(other)
-    return _made(exchanged_from(promise.nodes, start, other.nodes))
+    return made_of(exchanged_from(promise.nodes, start, other.nodes))
 
 
 def _of_kind(kind, promises):
     """The promise of a kind with two to four parts."""
-    if not LEAST_JOINED <= len(promises) <= MOST_JOINED:
+    if not LEAST_PARTS <= len(promises) <= MOST_PARTS:
         raise InvalidOperation("only two to four promises have a join or a meet")
     for promise in promises:
         check_promise(promise)
-    return _made(joined(kind, [promise.nodes for promise in promises]))
+    return made_of(joined(kind, [promise.nodes for promise in promises]))
 
 
 def join(*promises):
@@ -92,7 +82,7 @@ def spread(promise, path, index):
     if (branch.kind, over.kind) not in SPREAD:
         raise InvalidOperation("the node cannot be spread over this part")
     found = joined(over.kind, [branch.with_part(index, inner).nodes for inner in over.parts])
-    return _made(exchanged_from(promise.nodes, branch_start(promise.nodes, path), found))
+    return made_of(exchanged_from(promise.nodes, branch_start(promise.nodes, path), found))
 
 
 def is_exchange(promise, path, other, value):

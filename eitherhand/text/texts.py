@@ -20,7 +20,7 @@ def _check_form(form):
 
 def _is_call_value(value):
     """Whether the value is a pair of a place and an index that a move can have."""
-    return isinstance(value, tuple) and len(value) == 2 and is_move(("keeper",) + value)
+    return isinstance(value, tuple) and is_move(("keeper",) + value)
 
 
 def _is_promise_text(value):
@@ -204,7 +204,6 @@ def read(form, text):
 
 def is_written(form, value):
     """Whether the value is a text of a form."""
-    _check_form(form)
     try:
         read(form, value)
     except ParseError:

@@ -1,11 +1,9 @@
 """A live book: promises with names, which are changed while pinned sayings hold."""
 
-from eitherhand.base.places import called, check_promise, is_call
+from eitherhand.base.places import called, check_promise
 from eitherhand.base.promises import Promise
 from eitherhand.base.words import is_fact
-from eitherhand.errors import (
-    InvalidBook, InvalidCall, InvalidOperation, InvalidWord, TooMany, UnknownFact,
-)
+from eitherhand.errors import InvalidBook, InvalidOperation, InvalidWord, TooMany, UnknownFact
 from eitherhand.play.runs import check_undo
 from eitherhand.use.sayings import (
     check_sayings, does_saying_hold, is_name_in, is_saying, meaning, news_of, renamed_saying,
@@ -125,11 +123,8 @@ class Project:
     def call(self, name, place, index):
         """Make a call of either hand in a promise."""
         self._check_name(name)
-        promise = self._promises[name]
-        if not is_call(promise, (place, index)):
-            raise InvalidCall("this call cannot be made")
-        behind = {**self._promises, name: called(promise, (place, index))}
-        return self._change("call", behind, self._sayings)
+        position = called(self._promises[name], (place, index))
+        return self._change("call", {**self._promises, name: position}, self._sayings)
 
     def pin(self, saying):
         """Pin a saying, which holds from now on."""
