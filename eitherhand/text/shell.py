@@ -53,6 +53,8 @@ def _calls_text(found):
     return " ".join([write("call", call) for call in found]) if len(found) > 0 else NOTHING
 
 
+# The answers to the commands: each takes the play, and what stands behind the word, so that all
+# of them can be called alike.
 def _show(play, _):
     return play.position.text
 
